@@ -5,6 +5,7 @@ import (
 	"slices"
 
 	"viewport/api"
+	"viewport/parts"
 	"viewport/tree"
 )
 
@@ -30,7 +31,7 @@ func (p *Pool) find(sym, at, bytes int) (int, bool) {
 	i, _ := slices.BinarySearchFunc(p.parts, at, func(q api.Part, at int) int { return cmp.Compare(q.At, at) })
 	for ; i < len(p.parts) && p.parts[i].At == at; i++ {
 		q := p.parts[i]
-		if q.Sym == sym && (q.Kind == api.PartNon || q.Kind == api.PartRoot) {
+		if q.Sym == sym && parts.Inner(q) {
 			return i, q.Kind == api.PartNon && q.To > at && q.To <= bytes && !p.stale[i]
 		}
 	}
@@ -39,34 +40,25 @@ func (p *Pool) find(sym, at, bytes int) (int, bool) {
 
 // graft takes part i of the pool with everything inside it.
 func (w *Walk) graft(i int) api.Unit {
-	p := w.pool
+	taken := w.pool.parts[i:parts.End(w.pool.parts, i)]
 	by, look := len(w.out)-i, 0
-	for j := i; j < last(p.parts, i); j++ {
-		q := p.parts[j]
-		look = max(look, q.Look)
-		q.Kids = slices.Clone(q.Kids)
-		for n := range q.Kids {
-			q.Kids[n] += by
+	for at, p := range taken {
+		look = max(look, p.Look)
+		p.Kids = slices.Clone(p.Kids)
+		for n := range p.Kids {
+			p.Kids[n] += by
 		}
-		if j == i {
-			w.add(q)
+		if at == 0 {
+			w.add(p)
 		} else {
-			w.out = append(w.out, q)
+			w.out = append(w.out, p)
 		}
 	}
-	w.at = p.parts[i].To
+	w.at = taken[0].To
 	for w.window.size() > 0 && w.window.at(0).From < w.at {
 		w.window.take()
 	}
 	return api.Unit{Cost: 1, Read: look}
-}
-
-// last returns the index after everything inside part i.
-func last(l []api.Part, i int) int {
-	for len(l[i].Kids) > 0 {
-		i = l[i].Kids[len(l[i].Kids)-1]
-	}
-	return i + 1
 }
 
 // queue is a row of things, of which the first ones are taken first.

@@ -1,0 +1,22 @@
+// Package parts answers small questions about the parts of trees that are known to be valid, for all layers that go through trees.
+package parts
+
+import "viewport/api"
+
+// Inner reports whether a part is one that may have children.
+func Inner(p api.Part) bool {
+	return p.Kind == api.PartRoot || p.Kind == api.PartNon
+}
+
+// Fits reports whether one part can stand where another one does.
+func Fits(a, b api.Part) bool {
+	return a.Sym == b.Sym && a.Kind == b.Kind && a.At == b.At && a.To == b.To
+}
+
+// End returns the index after everything that is inside part i.
+func End(l []api.Part, i int) int {
+	for len(l[i].Kids) > 0 {
+		i = l[i].Kids[len(l[i].Kids)-1]
+	}
+	return i + 1
+}
