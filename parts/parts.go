@@ -1,7 +1,11 @@
-// Package parts answers small questions about the parts of trees that are known to be valid, for all layers that go through trees.
+// Package parts answers small questions about the parts of trees, for all layers that go through trees.
 package parts
 
-import "viewport/api"
+import (
+	"slices"
+
+	"viewport/api"
+)
 
 // Inner reports whether a part is one that may have children.
 func Inner(p api.Part) bool {
@@ -13,7 +17,14 @@ func Fits(a, b api.Part) bool {
 	return a.Sym == b.Sym && a.Kind == b.Kind && a.At == b.At && a.To == b.To
 }
 
-// End returns the index after everything that is inside part i.
+// Same reports whether two lists of parts are equal in everything.
+func Same(a, b []api.Part) bool {
+	return slices.EqualFunc(a, b, func(p, q api.Part) bool {
+		return Fits(p, q) && p.In == q.In && p.Look == q.Look && p.Met == q.Met && slices.Equal(p.Kids, q.Kids)
+	})
+}
+
+// End returns the index after everything that is inside part i of a valid tree.
 func End(l []api.Part, i int) int {
 	for len(l[i].Kids) > 0 {
 		i = l[i].Kids[len(l[i].Kids)-1]

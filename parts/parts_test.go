@@ -22,4 +22,12 @@ func TestParts(t *testing.T) {
 	if !Fits(a, api.Part{Sym: 1, Kind: 2, At: 3, To: 4}) || Fits(a, api.Part{Kind: 2, At: 3, To: 4}) || Fits(a, api.Part{Sym: 1, At: 3, To: 4}) || Fits(a, api.Part{Sym: 1, Kind: 2, To: 4}) || Fits(a, api.Part{Sym: 1, Kind: 2, At: 3}) {
 		t.Error("Fits")
 	}
+	same := func(change func(p *api.Part)) bool {
+		b := api.Part{Sym: 1, Kind: 2, At: 3, To: 4, In: 5, Look: 6, Met: 7}
+		change(&b)
+		return Same([]api.Part{a}, []api.Part{b}) || Same([]api.Part{b}, []api.Part{a})
+	}
+	if !same(func(p *api.Part) { p.Kids = []int{} }) || same(func(p *api.Part) { p.Kids = []int{1} }) || same(func(p *api.Part) { p.Sym++ }) || same(func(p *api.Part) { p.In++ }) || same(func(p *api.Part) { p.Look++ }) || same(func(p *api.Part) { p.Met++ }) || Same(l, l[:5]) {
+		t.Error("Same")
+	}
 }
