@@ -24,6 +24,19 @@ func Same(a, b []api.Part) bool {
 	})
 }
 
+// Shifted returns a copy of parts in which the indexes of their children are increased by a number.
+func Shifted(l []api.Part, by int) []api.Part {
+	out := make([]api.Part, len(l))
+	for i, p := range l {
+		p.Kids = slices.Clone(p.Kids)
+		for n := range p.Kids {
+			p.Kids[n] += by
+		}
+		out[i] = p
+	}
+	return out
+}
+
 // End returns the index after everything that is inside part i of a valid tree.
 func End(l []api.Part, i int) int {
 	for len(l[i].Kids) > 0 {

@@ -6,6 +6,14 @@ import (
 	"viewport/api"
 )
 
+func TestShifted(t *testing.T) {
+	l := []api.Part{{Sym: 7, Kids: []int{4, 6}}, {Sym: 8}}
+	got := Shifted(l, -3)
+	if !Same(got, []api.Part{{Sym: 7, Kids: []int{1, 3}}, {Sym: 8}}) || l[0].Kids[0] != 4 {
+		t.Error(got, l)
+	}
+}
+
 func TestParts(t *testing.T) {
 	l := []api.Part{{Kind: api.PartRoot, Kids: []int{1, 5}}, {Kind: api.PartNon, Kids: []int{2, 3}}, {Kind: api.PartTok}, {Kind: api.PartNon, Kids: []int{4}}, {Kind: api.PartSkip}, {Kind: api.PartEnd}}
 	for i, want := range []int{6, 5, 3, 5, 5, 6} {

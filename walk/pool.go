@@ -40,21 +40,15 @@ func (p *Pool) find(sym, at, bytes int) (int, bool) {
 
 // graft takes part i of the pool with everything inside it.
 func (w *Walk) graft(i int) api.Unit {
-	taken := w.pool.parts[i:parts.End(w.pool.parts, i)]
-	by, look := len(w.out)-i, 0
-	for at, p := range taken {
-		look = max(look, p.Look)
-		p.Kids = slices.Clone(p.Kids)
-		for n := range p.Kids {
-			p.Kids[n] += by
-		}
-		if at == 0 {
-			w.add(p)
-		} else {
-			w.out = append(w.out, p)
-		}
-	}
+	old := w.pool.parts
+	taken := parts.Shifted(old[i:parts.End(old, i)], len(w.out)-i)
+	w.add(taken[0])
+	w.out = append(w.out, taken[1:]...)
 	w.at = taken[0].To
+	look := 0
+	for _, p := range taken {
+		look = max(look, p.Look)
+	}
 	for w.window.size() > 0 && w.window.at(0).From < w.at {
 		w.window.take()
 	}
