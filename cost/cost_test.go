@@ -41,6 +41,8 @@ func accepted(t *testing.T) []api.Grammar {
 		// Nullable nonterminals inside one another.
 		{Terms: 2, Nons: 4, K: 1, Prods: []api.Prod{prod(0, 3, 4, 0), prod(1, 4, 5), prod(1, 1), prod(2, 5, 5), prod(3)}},
 		{Terms: 2, Nons: 4, K: 1, Prods: []api.Prod{prod(0, 3, 3, 0), prod(1, 4, 4), prod(2, 5, 5), prod(3)}},
+		// Nonterminal 0 is nullable, and inside others.
+		{Terms: 1, Nons: 2, K: 1, Prods: []api.Prod{prod(0), prod(0, 0, 2), prod(1, 1)}},
 		// Three tokens decide.
 		{Terms: 2, Nons: 1, K: 3, Prods: []api.Prod{prod(0, 0, 0, 0), prod(0, 0, 0, 1), prod(0, 0, 1), prod(0, 0)}},
 	}
@@ -237,6 +239,33 @@ func TestP15_2Large(t *testing.T) {
 		steps, ok2 := Steps(g, table, "")
 		if e != api.OK || ok != x.ok || ok2 != x.ok || ok != (Const(g) <= api.MaxConst) || ok && (steps != Null(g)[0] || len(prods) != steps) || !ok && (steps != 0 || len(prods) != 0) {
 			t.Errorf("%d, %d: %d, %v, %d", x.height, x.width, steps, ok, Const(g))
+		}
+	}
+}
+
+// empties is a grammar of one production for each nonterminal, whose right side is nonterminals.
+func empties(rights ...[]int) api.Grammar {
+	g := api.Grammar{Terms: 1, Nons: len(rights), K: 1}
+	for n, right := range rights {
+		p := prod(n)
+		for _, m := range right {
+			p.Right = append(p.Right, 1+m)
+		}
+		g.Prods = append(g.Prods, p)
+	}
+	return g
+}
+
+func TestP15_2MaxConst(t *testing.T) {
+	// 15 * (1 + 6 * 728) + 1 is MaxConst.
+	most := empties([]int{1, 5, 5, 5, 12}, []int{2}, []int{3}, []int{4}, []int{5, 12, 6, 6, 10}, []int{6}, []int{7, 12, 8, 10, 10, 10}, []int{8}, []int{9}, []int{10, 10, 10, 13, 10}, []int{11}, []int{12}, []int{13, 14, 13, 14}, []int{14}, nil)
+	// 16 * (1 + 5 * 819) + 1 is one more.
+	over := empties([]int{1, 1, 7, 15, 15}, []int{2}, []int{3}, []int{4}, []int{5}, []int{6, 10, 7, 14, 11}, []int{7, 15, 14}, []int{8, 11, 11, 10, 15}, []int{9, 14, 15}, []int{10}, []int{11}, []int{12, 12, 12, 15, 12}, []int{13}, []int{14}, []int{15, 15, 15, 15}, nil)
+	for i, g := range []api.Grammar{most, over} {
+		table, _, e := predict.Build(g)
+		steps, ok := Steps(g, table, "")
+		if e != api.OK || Const(g) != api.MaxConst+i || ok != (i == 0) || ok && steps != 728 {
+			t.Error(e, Const(g), steps, ok)
 		}
 	}
 }

@@ -236,6 +236,35 @@ func towers(height, width int, more ...api.Prod) api.Grammar {
 	return g
 }
 
+// empties is a grammar of one production for each nonterminal, whose right side is nonterminals.
+func empties(rights ...[]int) api.Grammar {
+	g := api.Grammar{Terms: 1, Nons: len(rights), K: 1}
+	for n, right := range rights {
+		p := prod(n)
+		for _, m := range right {
+			p.Right = append(p.Right, 1+m)
+		}
+		g.Prods = append(g.Prods, p)
+	}
+	return g
+}
+
+func TestP17_1MaxConst(t *testing.T) {
+	// The Const of the first one is MaxConst, that of the second one is one more. Neither has too many parts for a text without bytes.
+	most := empties([]int{1, 5, 5, 5, 12}, []int{2}, []int{3}, []int{4}, []int{5, 12, 6, 6, 10}, []int{6}, []int{7, 12, 8, 10, 10, 10}, []int{8}, []int{9}, []int{10, 10, 10, 13, 10}, []int{11}, []int{12}, []int{13, 14, 13, 14}, []int{14}, nil)
+	over := empties([]int{1, 1, 7, 15, 15}, []int{2}, []int{3}, []int{4}, []int{5}, []int{6, 10, 7, 14, 11}, []int{7, 15, 14}, []int{8, 11, 11, 10, 15}, []int{9, 14, 15}, []int{10}, []int{11}, []int{12, 12, 12, 15, 12}, []int{13}, []int{14}, []int{15, 15, 15, 15}, nil)
+	l, e := Build(words().rules, most)
+	if e != api.OK || l.Most() != 0 {
+		t.Error(e, l.Most())
+	}
+	if got, e := l.Fresh(""); e != api.OK || len(got) != 730 || !Whole(got) {
+		t.Error(len(got), e)
+	}
+	if l, e := Build(words().rules, over); l != nil || e != api.ErrFull {
+		t.Error(e)
+	}
+}
+
 func TestP17_1Build(t *testing.T) {
 	w := words()
 	long := prod(0, slices.Repeat([]int{0}, 8)...)

@@ -77,6 +77,8 @@ func TestP11_1Check(t *testing.T) {
 		{long(func(g *api.Grammar) { g.Terms = 9 }), api.ErrLong},
 		{long(func(g *api.Grammar) { g.Terms = 0 }), api.ErrArg},
 		{long(func(g *api.Grammar) { g.Terms = -1 }), api.ErrArg},
+		{api.Grammar{Terms: 0, Nons: 1, K: 1, Prods: []api.Prod{prod(0)}}, api.ErrArg},
+		{api.Grammar{Terms: 1, Nons: 1, K: 1, Prods: []api.Prod{prod(0)}}, api.OK},
 		{long(func(g *api.Grammar) { g.Terms = math.MaxInt; g.Nons = math.MaxInt }), api.ErrLong},
 		{long(func(g *api.Grammar) { g.Terms = math.MinInt; g.Nons = math.MinInt }), api.ErrArg},
 		{long(func(g *api.Grammar) { g.Nons = 16 }), api.OK},

@@ -270,7 +270,10 @@ func TestP7_2EachCanBeLeft(t *testing.T) {
 	for i := range l.Dfa.Next {
 		l.Dfa.Next[i] = -1
 	}
-	l.Kind[0], l.Dfa.Rule[1] = -1, 1
+	l.Kind[0] = -1
+	for i := range l.Dfa.Rule {
+		l.Dfa.Rule[i] = 1
+	}
 	inner := 0
 	for range seq {
 		for range seq {

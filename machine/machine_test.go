@@ -352,6 +352,7 @@ func TestP18_1Errors(t *testing.T) {
 		{&fresh.Lang{}, "", 0, 0, nil, api.ErrNil},
 		{&copied, "", 0, 0, nil, api.ErrNil},
 		{l, long, -9, -9, bad, api.ErrLong},
+		{l, long[1:], 0, l.Most(), nil, api.OK},
 		{l, "a", -2, 0, nil, api.ErrArg},
 		{l, "a", 1, 0, nil, api.ErrArg},
 		{l, "a", math.MaxInt, 0, nil, api.ErrArg},
@@ -379,6 +380,12 @@ func TestP18_1Errors(t *testing.T) {
 	for paid, want := range map[int]int{least: 5, -1: 5, 0: 5, 1: 7, 2: 8, 3: 9, 4: 9, 5: 19, 6: 20, 7: 20, most: 20} {
 		if got := Read(l2, 5, paid); got != want {
 			t.Errorf("Read after %d: %d, not %d", paid, got, want)
+		}
+	}
+	free := []api.Unit{{Cost: 0, Read: 7}, {Cost: 2, Read: 6}, {Cost: 0, Read: 9}}
+	for paid, want := range map[int]int{0: 7, 1: 7, 2: 9, 5: 9} {
+		if got := Read(free, 1, paid); got != want {
+			t.Errorf("Read after %d, of units that cost nothing: %d, not %d", paid, got, want)
 		}
 	}
 	if Read(nil, -3, 5) != -3 || Read([]api.Unit{{Cost: most, Read: least}}, least, 1) != least || Read([]api.Unit{{Cost: least, Read: 1}, {Cost: 1, Read: 2}}, 0, most) != 2 {

@@ -30,10 +30,13 @@ func build(t *testing.T, texts ...string) api.Dfa {
 	return d
 }
 
-// samples are tables whose scans look far ahead, are nullable, have no rule, or states from which nothing leads to one.
+// samples are tables whose scans look far ahead, are nullable, have no rule, or states from which nothing leads to one, or lead back to the first state.
 func samples(t *testing.T) []api.Dfa {
 	dead := api.Dfa{Next: slices.Repeat([]int{-1}, 512), Rule: []int{-1, -1}}
 	dead.Next['a'], dead.Next[256+'b'] = 1, 1
+	// A minimized table may lead back to its first state.
+	loop := api.Dfa{Next: slices.Repeat([]int{-1}, 512), Rule: []int{-1, 3}}
+	loop.Next['a'], loop.Next[256+'b'] = 1, 0
 	return []api.Dfa{
 		build(t, "ab*", "[0-9]+"),
 		build(t, "a", "(ab)*c", "b"),
@@ -41,6 +44,8 @@ func samples(t *testing.T) []api.Dfa {
 		build(t, "a|ab|abc|abcabcd", "c.*b"),
 		build(t),
 		dead,
+		loop,
+		{Next: slices.Repeat([]int{0}, 256), Rule: []int{2}},
 		build(t, "a", "a|b", "ab"),
 	}
 }

@@ -258,7 +258,7 @@ func TestP3_2Step(t *testing.T) {
 	for _, x := range []struct {
 		set  []int
 		want int
-	}{{nil, -1}, {[]int{0}, 0}, {[]int{1}, -1}, {[]int{6, 4}, 0}, {[]int{8, 6}, 1}, {[]int{8}, 2}, {[]int{-1, 9, 1 << 40}, -1}, {[]int{1, 9, 8, -5, 3}, 2}, {[]int{8, 7, 1}, 1}} {
+	}{{nil, -1}, {[]int{0}, 0}, {[]int{1}, -1}, {[]int{6, 4}, 0}, {[]int{4, 6}, 0}, {[]int{8, 6}, 1}, {[]int{8}, 2}, {[]int{-1, 9, 1 << 40}, -1}, {[]int{1, 9, 8, -5, 3}, 2}, {[]int{8, 7, 1}, 1}} {
 		if got := Rule(n, x.set); got != x.want {
 			t.Errorf("Rule of %v: %d, not %d", x.set, got, x.want)
 		}

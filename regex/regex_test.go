@@ -214,6 +214,8 @@ func TestP2_1Read(t *testing.T) {
 		`\x0a`:           {leaf("\n")},
 		`\xfF`:           {leaf("\xff")},
 		`\xaB`:           {leaf("\xab")},
+		`\xA9`:           {leaf("\xa9")},
+		`\x9A`:           {leaf("\x9a")},
 		`\x41B`:          {leaf("A"), leaf("B"), node(api.NodeCat, 0, 1)},
 		`\.`:             {leaf(".")},
 		`\\`:             {leaf(`\`)},
@@ -281,7 +283,7 @@ func TestP2_1ReadErrors(t *testing.T) {
 		{"[^]]", 3, api.ErrText}, {"[]]", 2, api.ErrText},
 		{`\`, 1, api.ErrMore}, {`a\`, 2, api.ErrMore}, {`[\`, 2, api.ErrMore}, {`[a-\`, 4, api.ErrMore},
 		{`\x`, 2, api.ErrMore}, {`\x1`, 3, api.ErrMore}, {`[\x`, 3, api.ErrMore}, {`[\xa`, 4, api.ErrMore},
-		{`\a`, 1, api.ErrText}, {`\Z`, 1, api.ErrText}, {`\0`, 1, api.ErrText}, {`\N`, 1, api.ErrText}, {`\X41`, 1, api.ErrText},
+		{`\a`, 1, api.ErrText}, {`\z`, 1, api.ErrText}, {`\A`, 1, api.ErrText}, {`\9`, 1, api.ErrText}, {`\Z`, 1, api.ErrText}, {`\0`, 1, api.ErrText}, {`\N`, 1, api.ErrText}, {`\X41`, 1, api.ErrText},
 		{`\xg1`, 2, api.ErrText}, {`\x1g`, 3, api.ErrText}, {`ab\x)`, 4, api.ErrText}, {`\x1)`, 3, api.ErrText}, {`\x:0`, 2, api.ErrText}, {"\\x`0", 2, api.ErrText}, {`\x@0`, 2, api.ErrText}, {`\x/0`, 2, api.ErrText}, {`\xG0`, 2, api.ErrText},
 		{`[\q]`, 2, api.ErrText}, {`[a-\q]`, 4, api.ErrText}, {`[\xzz]`, 3, api.ErrText},
 		{"[b-a]", 3, api.ErrText}, {`[b-\x61]`, 3, api.ErrText}, {"[a--]", 3, api.ErrText}, {"[xb-a", 4, api.ErrText}, {`[\x62-a]`, 6, api.ErrText},
@@ -303,6 +305,9 @@ func TestP2_2Text(t *testing.T) {
 		"a":                    {a},
 		"Z":                    {leaf("Z")},
 		"0":                    {leaf("0")},
+		"9":                    {leaf("9")},
+		"A":                    {leaf("A")},
+		"z":                    {leaf("z")},
 		`[\x5f]`:               {leaf("_")},
 		"[]":                   {leaf("")},
 		"[ab]":                 {leaf("ab")},
@@ -435,7 +440,7 @@ func TestP2_2Same(t *testing.T) {
 		t.Error("the same in another order")
 	}
 	bad := api.Regex{a, b}
-	if Same(bad, bad) || Same(nil, nil) {
+	if Same(bad, bad) || Same(nil, nil) || Same(bad, ab[:2:2]) || Same(api.Regex{a, a, node(api.NodeCat, 0, 0)}, ab) || Same(ab, api.Regex{a, b, node(api.NodeCat, 0, 5)}) {
 		t.Error("sequences that are not valid are not the same")
 	}
 }

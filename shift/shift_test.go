@@ -224,8 +224,16 @@ func TestNumbersAreBounded(t *testing.T) {
 						t.Fatalf("%v, %d", e, x)
 					}
 					s := api.Span{From: x, To: at}
-					if Meets(s, e) != Meets(span(s), f) || Move(s, e) != Move(span(s), f) {
+					if Meets(s, e) != Meets(api.Span{From: y, To: near(at)}, f) || Move(s, e) != Move(api.Span{From: y, To: near(at)}, f) {
 						t.Fatalf("%v, %v", e, s)
+					}
+					for _, to := range numbers {
+						s, u := api.Span{From: x, To: to}, api.Span{From: y, To: near(to)}
+						removes := f.Del > 0 && f.At < u.To && f.At+f.Del > u.From
+						inserts := f.Ins > 0 && u.From < f.At && f.At < u.To
+						if Meets(s, e) != (removes || inserts) {
+							t.Fatalf("%v, %v", e, s)
+						}
 					}
 				}
 			}

@@ -146,6 +146,12 @@ func TestP25_1NotValid(t *testing.T) {
 	if left, _, _ := Run(l, 1, math.MinInt); left != math.MaxInt {
 		t.Error(left)
 	}
+	l[1].Sym = 5
+	for terms, want := range map[int]int{-3: 8, 0: 5, 3: 2, 9: -4, math.MaxInt: 5 - math.MaxInt} {
+		if left, _, _ := Run(l, 1, terms); left != want {
+			t.Error(terms, left)
+		}
+	}
 	l[1].Sym = math.MinInt
 	if left, _, _ := Run(l, 1, 1); left != math.MinInt {
 		t.Error(left)

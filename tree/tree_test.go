@@ -342,8 +342,9 @@ func TestP16_2MoveAndBare(t *testing.T) {
 	if got := Move(far, -1<<40); !Same(got, l) {
 		t.Error(got)
 	}
+	farther := Move(far, 1<<40)
 	for _, by := range []int{1<<40 + 1, -1<<40 - 1, math.MaxInt, math.MinInt} {
-		if len(Move(l, by)) != 0 || len(Move(far, by)) != 0 {
+		if len(Move(l, by)) != 0 || len(Move(far, by)) != 0 || len(Move(farther, by)) != 0 {
 			t.Error(by)
 		}
 	}

@@ -30,7 +30,7 @@ func (n names) after(path, sym int) int {
 	return n[s]
 }
 
-// leavesOf returns the leaves of a tree in order.
+// leavesOf returns the leaves of a tree of a text in order.
 func leavesOf(l []api.Part, text string, n names) []leaf {
 	paths := make([]int, len(l))
 	for i, up := range tree.Parents(l) {
@@ -43,12 +43,7 @@ func leavesOf(l []api.Part, text string, n names) []leaf {
 	var out []leaf
 	for _, i := range tree.Leaves(l) {
 		p := l[i]
-		out = append(out, leaf{bytes: cut(text, p.At, p.To), path: paths[i], kind: p.Kind, at: p.At, in: p.In, to: p.To})
+		out = append(out, leaf{bytes: text[p.At:p.To], path: paths[i], kind: p.Kind, at: p.At, in: p.In, to: p.To})
 	}
 	return out
-}
-
-// cut returns the bytes from a position up to another one, as far as there are any.
-func cut(text string, from, to int) string {
-	return text[min(from, len(text)):min(to, len(text))]
 }

@@ -409,6 +409,20 @@ func TestLongText(t *testing.T) {
 	}
 }
 
+func TestLongestText(t *testing.T) {
+	c := words().config
+	l, _ := fresh.Build(c.Rules, c.Grammar)
+	text := strings.Repeat("a", l.Most()-1)
+	acts := []api.Act{{Kind: api.ActEdit, Ins: "b"}, {Kind: api.ActEdit, Ins: "b"}, {Kind: api.ActTick, Quota: api.MaxQuota}}
+	if got := Of(c, text, acts); !got.OK {
+		t.Error(got)
+	}
+	seen, _ := world.Run(c, text, acts)
+	if seen[0].Err != api.OK || seen[1].Err != api.ErrLong {
+		t.Error(seen[0].Err, seen[1].Err)
+	}
+}
+
 func TestExamples(t *testing.T) {
 	c, text, l := script(t)
 	l[2].Spent = l[2].Act.Quota + 1
