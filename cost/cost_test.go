@@ -7,21 +7,18 @@ import (
 
 	"viewport/api"
 	"viewport/predict"
+	"viewport/sample"
 )
 
-func prod(left int, right ...int) api.Prod {
-	return api.Prod{Left: left, Right: right}
-}
-
 func list(k int) api.Grammar {
-	return api.Grammar{Terms: 1, Nons: 1, K: k, Prods: []api.Prod{prod(0, 0, 1), prod(0)}}
+	return api.Grammar{Terms: 1, Nons: 1, K: k, Prods: []api.Prod{sample.Prod(0, 0, 1), sample.Prod(0)}}
 }
 
 func random(r *rand.Rand) api.Grammar {
 	g := api.Grammar{Terms: 1 + r.Intn(3), Nons: 1 + r.Intn(4), K: 1 + r.Intn(3)}
 	for n := range g.Nons {
 		for range 1 + r.Intn(2) {
-			p := prod(n)
+			p := sample.Prod(n)
 			for range r.Intn(4) {
 				p.Right = append(p.Right, r.Intn(g.Terms+g.Nons))
 			}
@@ -37,14 +34,14 @@ func accepted(t *testing.T) []api.Grammar {
 	l := []api.Grammar{
 		list(1), list(3),
 		// Expressions: t0 a number, t1 a sign, t2 and t3 parentheses.
-		{Terms: 4, Nons: 3, K: 1, Prods: []api.Prod{prod(0, 6, 5), prod(1, 1, 6, 5), prod(1), prod(2, 0), prod(2, 2, 4, 3)}},
+		{Terms: 4, Nons: 3, K: 1, Prods: []api.Prod{sample.Prod(0, 6, 5), sample.Prod(1, 1, 6, 5), sample.Prod(1), sample.Prod(2, 0), sample.Prod(2, 2, 4, 3)}},
 		// Nullable nonterminals inside one another.
-		{Terms: 2, Nons: 4, K: 1, Prods: []api.Prod{prod(0, 3, 4, 0), prod(1, 4, 5), prod(1, 1), prod(2, 5, 5), prod(3)}},
-		{Terms: 2, Nons: 4, K: 1, Prods: []api.Prod{prod(0, 3, 3, 0), prod(1, 4, 4), prod(2, 5, 5), prod(3)}},
+		{Terms: 2, Nons: 4, K: 1, Prods: []api.Prod{sample.Prod(0, 3, 4, 0), sample.Prod(1, 4, 5), sample.Prod(1, 1), sample.Prod(2, 5, 5), sample.Prod(3)}},
+		{Terms: 2, Nons: 4, K: 1, Prods: []api.Prod{sample.Prod(0, 3, 3, 0), sample.Prod(1, 4, 4), sample.Prod(2, 5, 5), sample.Prod(3)}},
 		// Nonterminal 0 is nullable, and inside others.
-		{Terms: 1, Nons: 2, K: 1, Prods: []api.Prod{prod(0), prod(0, 0, 2), prod(1, 1)}},
+		{Terms: 1, Nons: 2, K: 1, Prods: []api.Prod{sample.Prod(0), sample.Prod(0, 0, 2), sample.Prod(1, 1)}},
 		// Three tokens decide.
-		{Terms: 2, Nons: 1, K: 3, Prods: []api.Prod{prod(0, 0, 0, 0), prod(0, 0, 0, 1), prod(0, 0, 1), prod(0, 0)}},
+		{Terms: 2, Nons: 1, K: 3, Prods: []api.Prod{sample.Prod(0, 0, 0, 0), sample.Prod(0, 0, 0, 1), sample.Prod(0, 0, 1), sample.Prod(0, 0)}},
 	}
 	for len(l) < 150 {
 		if g := random(r); predict.Accept(g) == api.OK {
@@ -181,7 +178,7 @@ func TestP15_1(t *testing.T) {
 }
 
 func TestP15_1Table(t *testing.T) {
-	g := api.Grammar{Terms: 2, Nons: 4, K: 1, Prods: []api.Prod{prod(0, 3, 3, 0), prod(1, 4, 4), prod(2, 5, 5), prod(3)}}
+	g := api.Grammar{Terms: 2, Nons: 4, K: 1, Prods: []api.Prod{sample.Prod(0, 3, 3, 0), sample.Prod(1, 4, 4), sample.Prod(2, 5, 5), sample.Prod(3)}}
 	if got := Null(g); !slices.Equal(got, []int{-1, 7, 3, 1}) {
 		t.Error(got)
 	}
@@ -191,16 +188,16 @@ func TestP15_1Table(t *testing.T) {
 	if got := Const(g); got != 4*(1+3*7)+1 {
 		t.Error(got)
 	}
-	none := api.Grammar{Terms: 1, Nons: 1, K: 1, Prods: []api.Prod{prod(0, 0)}}
+	none := api.Grammar{Terms: 1, Nons: 1, K: 1, Prods: []api.Prod{sample.Prod(0, 0)}}
 	if Const(none) != 2 || !slices.Equal(Null(none), []int{-1}) || !slices.Equal(Deep(none), []int{1}) {
 		t.Error(Const(none), Null(none), Deep(none))
 	}
 	for i, bad := range []api.Grammar{
 		{},
-		{Terms: 1, Nons: 1, K: 4, Prods: []api.Prod{prod(0)}},
-		{Terms: 1, Nons: 2, K: 1, Prods: []api.Prod{prod(0), prod(1)}},
-		{Terms: 1, Nons: 1, K: 1, Prods: []api.Prod{prod(0, 1, 0), prod(0)}},
-		{Terms: 1, Nons: 1, K: 1, Prods: []api.Prod{prod(0), prod(0)}},
+		{Terms: 1, Nons: 1, K: 4, Prods: []api.Prod{sample.Prod(0)}},
+		{Terms: 1, Nons: 2, K: 1, Prods: []api.Prod{sample.Prod(0), sample.Prod(1)}},
+		{Terms: 1, Nons: 1, K: 1, Prods: []api.Prod{sample.Prod(0, 1, 0), sample.Prod(0)}},
+		{Terms: 1, Nons: 1, K: 1, Prods: []api.Prod{sample.Prod(0), sample.Prod(0)}},
 	} {
 		prods, ok := Derive(bad, api.Table{Look: make([][]string, len(bad.Prods))}, "")
 		steps, ok2 := Steps(bad, api.Table{Look: make([][]string, len(bad.Prods))}, "")
@@ -210,19 +207,9 @@ func TestP15_1Table(t *testing.T) {
 	}
 }
 
-// towers is a grammar whose Const is great: each nonterminal is the next one several times, and the last one is nothing.
-func towers(height, width int) api.Grammar {
-	g := api.Grammar{Terms: 1, Nons: height, K: 1}
-	for n := range height - 1 {
-		g.Prods = append(g.Prods, prod(n, slices.Repeat([]int{2 + n}, width)...))
-	}
-	g.Prods = append(g.Prods, prod(height-1))
-	return g
-}
-
 func TestP15_2Large(t *testing.T) {
 	// 1, 9, 73, 585, 4,681: that is 5 * (1 + 8 * 4,681) + 1 for five nonterminals.
-	most := towers(api.MaxNons, api.MaxRight)
+	most := sample.Tower(api.MaxNons, api.MaxRight)
 	if got := Null(most)[0]; got != 40210710958665 {
 		t.Error(got)
 	}
@@ -233,7 +220,7 @@ func TestP15_2Large(t *testing.T) {
 		height, width int
 		ok            bool
 	}{{4, 8, true}, {5, 8, false}, {5, 4, true}} {
-		g := towers(x.height, x.width)
+		g := sample.Tower(x.height, x.width)
 		table, _, e := predict.Build(g)
 		prods, ok := Derive(g, table, "")
 		steps, ok2 := Steps(g, table, "")
@@ -243,25 +230,8 @@ func TestP15_2Large(t *testing.T) {
 	}
 }
 
-// empties is a grammar of one production for each nonterminal, whose right side is nonterminals.
-func empties(rights ...[]int) api.Grammar {
-	g := api.Grammar{Terms: 1, Nons: len(rights), K: 1}
-	for n, right := range rights {
-		p := prod(n)
-		for _, m := range right {
-			p.Right = append(p.Right, 1+m)
-		}
-		g.Prods = append(g.Prods, p)
-	}
-	return g
-}
-
 func TestP15_2MaxConst(t *testing.T) {
-	// 15 * (1 + 6 * 728) + 1 is MaxConst.
-	most := empties([]int{1, 5, 5, 5, 12}, []int{2}, []int{3}, []int{4}, []int{5, 12, 6, 6, 10}, []int{6}, []int{7, 12, 8, 10, 10, 10}, []int{8}, []int{9}, []int{10, 10, 10, 13, 10}, []int{11}, []int{12}, []int{13, 14, 13, 14}, []int{14}, nil)
-	// 16 * (1 + 5 * 819) + 1 is one more.
-	over := empties([]int{1, 1, 7, 15, 15}, []int{2}, []int{3}, []int{4}, []int{5}, []int{6, 10, 7, 14, 11}, []int{7, 15, 14}, []int{8, 11, 11, 10, 15}, []int{9, 14, 15}, []int{10}, []int{11}, []int{12, 12, 12, 15, 12}, []int{13}, []int{14}, []int{15, 15, 15, 15}, nil)
-	for i, g := range []api.Grammar{most, over} {
+	for i, g := range []api.Grammar{sample.MostConst(), sample.OverConst()} {
 		table, _, e := predict.Build(g)
 		steps, ok := Steps(g, table, "")
 		if e != api.OK || Const(g) != api.MaxConst+i || ok != (i == 0) || ok && steps != 728 {

@@ -11,60 +11,31 @@ import (
 	"viewport/cost"
 	"viewport/fresh"
 	"viewport/marks"
+	"viewport/sample"
 	"viewport/shift"
 	"viewport/tree"
 )
 
-func prod(left int, right ...int) api.Prod {
-	return api.Prod{Left: left, Right: right}
-}
-
-func rule(name, regex string) api.Rule {
-	return api.Rule{Name: name, Regex: regex, Trivia: strings.HasPrefix(name, "gap")}
-}
-
-// sample is a configuration, and bytes of which its texts consist.
-type sample struct {
+// configured is a language with a configuration.
+type configured struct {
+	sample.Language
 	config api.Config
-	bytes  string
 }
 
-func words() sample {
-	return sample{api.Config{
-		Rules:   []api.Rule{rule("word", "[a-z]+"), rule("gap", "[ ]+")},
-		Grammar: api.Grammar{Terms: 1, Nons: 1, K: 1, Prods: []api.Prod{prod(0, 0, 1), prod(0)}},
-		Styles:  []api.Style{{Kind: 0, Style: 1}},
-		Up:      1, Wait: 5, Jobs: 4,
-	}, "ab  1"}
+func words() configured {
+	l := sample.Words()
+	return configured{l, l.Config(1, 5, 4)}
 }
 
-func samples() []sample {
-	return []sample{
-		words(),
-		{api.Config{
-			Rules:   []api.Rule{rule("number", "[0-9]+"), rule("plus", "[+]"), rule("open", "[(]"), rule("close", "[)]"), rule("gap", " ")},
-			Grammar: api.Grammar{Terms: 4, Nons: 3, K: 1, Prods: []api.Prod{prod(0, 6, 5), prod(1, 1, 6, 5), prod(1), prod(2, 0), prod(2, 2, 4, 3)}},
-			Up:      2, Wait: 2, Jobs: 2,
-		}, "12++(()) x"},
-		{api.Config{
-			Rules:   []api.Rule{rule("name", "[a-z]+"), rule("is", "="), rule("stop", ";"), rule("begin", "{"), rule("end", "}"), rule("gap", "[ \n]|#.*\n")},
-			Grammar: api.Grammar{Terms: 5, Nons: 2, K: 2, Prods: []api.Prod{prod(0, 6, 5), prod(0), prod(1, 0, 1, 0, 2), prod(1, 0, 2), prod(1, 3, 5, 4)}},
-			Up:      8, Wait: 1, Jobs: 3,
-		}, "ab=;;{} #\n!"},
-		{api.Config{
-			Rules:   []api.Rule{rule("a", "a(bcb)?"), rule("b", "b|bc"), rule("c", "c")},
-			Grammar: api.Grammar{Terms: 3, Nons: 3, K: 3, Prods: []api.Prod{prod(0, 4, 5, 0), prod(0, 1, 3), prod(1, 0, 0, 1), prod(1, 0, 0, 2), prod(1, 0, 1), prod(2), prod(2, 2, 2)}},
-			Up:      0, Wait: 1000, Jobs: 32,
-		}, "aabbcc-"},
+func languages() []configured {
+	out := []configured{words()}
+	for _, l := range []sample.Language{sample.Sums(), sample.Statements(), sample.Letters()} {
+		out = append(out, configured{l, api.Config{}})
 	}
-}
-
-func randomText(r *rand.Rand, s sample, n int) string {
-	l := make([]byte, r.Intn(n))
-	for i := range l {
-		l[i] = s.bytes[r.Intn(len(s.bytes))]
-	}
-	return string(l)
+	out[1].config = out[1].Config(2, 2, 2)
+	out[2].config = out[2].Config(8, 1, 3)
+	out[3].config = out[3].Config(0, 1000, 32)
+	return out
 }
 
 func open(t *testing.T, c api.Config, text string) *Session {
@@ -153,13 +124,13 @@ func check(t *testing.T, s *Session, c api.Config, text string) {
 
 func TestP27_4(t *testing.T) {
 	r := rand.New(rand.NewSource(1))
-	for n, x := range samples() {
+	for n, x := range languages() {
 		for range 150 {
 			c := x.config
 			if r.Intn(2) == 0 {
 				c.Up, c.Wait, c.Jobs = r.Intn(4), 1+r.Intn(4), 1+r.Intn(5)
 			}
-			text := randomText(r, x, 40)
+			text := x.Text(r.Intn, 40)
 			s := open(t, c, text)
 			check(t, s, c, text)
 			if want, _ := s.Lang().Fresh(text); !tree.Same(s.Tree(), want) || s.Seen() != (api.Span{}) {
@@ -168,15 +139,13 @@ func TestP27_4(t *testing.T) {
 			for range 25 {
 				switch r.Intn(5) {
 				case 0, 1:
-					at := r.Intn(len(text) + 1)
-					del := r.Intn(min(len(text)-at, 4) + 1)
-					ins := randomText(r, x, 5)
+					edit, ins, after := x.Edit(r.Intn, text)
 					view := s.Seen()
-					if e := s.Edit(at, del, ins); e != api.OK {
+					if e := s.Edit(edit.At, edit.Del, ins); e != api.OK {
 						t.Fatal(e)
 					}
-					text = text[:at] + ins + text[at+del:]
-					if s.Seen() != shift.Move(view, api.Edit{At: at, Del: del, Ins: len(ins)}) {
+					text = after
+					if s.Seen() != shift.Move(view, edit) {
 						t.Fatalf("the view %v becomes %v", view, s.Seen())
 					}
 				case 2:
@@ -219,9 +188,9 @@ func TestP27_1(t *testing.T) {
 		{func(c *api.Config) { c.Up, c.Wait, c.Jobs = 0, 1, 1 }, api.OK},
 		{func(c *api.Config) { c.Up, c.Wait, c.Jobs = 8, 1000, 32 }, api.OK},
 		{func(c *api.Config) { *c = api.Config{} }, api.ErrArg},
-		{func(c *api.Config) { c.Rules = []api.Rule{rule("a", "(")}; c.Up = -1 }, api.ErrMore},
+		{func(c *api.Config) { c.Rules = []api.Rule{{Name: "a", Regex: "("}}; c.Up = -1 }, api.ErrMore},
 		{func(c *api.Config) { c.Grammar.K = 4; c.Styles[0].Style = 0 }, api.ErrLong},
-		{func(c *api.Config) { c.Grammar.Prods = []api.Prod{prod(0, 0, 1)} }, api.ErrNone},
+		{func(c *api.Config) { c.Grammar.Prods = []api.Prod{sample.Prod(0, 0, 1)} }, api.ErrNone},
 		{func(c *api.Config) { c.Styles = slices.Repeat(c.Styles, 65); c.Up = -1 }, api.ErrLong},
 		{func(c *api.Config) { c.Styles = []api.Style{{}} }, api.ErrArg},
 		{func(c *api.Config) { c.Up = -1 }, api.ErrArg},
@@ -394,7 +363,7 @@ func TestP27_2Machines(t *testing.T) {
 
 func TestP27_2Levels(t *testing.T) {
 	// Sums in parentheses: what is inserted takes the end of the sum with it, so that the target has to go up.
-	c := samples()[1].config
+	c := languages()[1].config
 	c.Up, c.Jobs = 3, 4
 	text := "1+(2+(3+4)+5)+6"
 	s := open(t, c, text)
@@ -515,7 +484,7 @@ func TestExamples(t *testing.T) {
 	if spent, e := s.Tick(1); spent != 1 || e != api.OK || s.Jobs()[0].Age != 0 {
 		t.Error(spent, e, s.Jobs())
 	}
-	c.Grammar.Prods = []api.Prod{prod(0, 1, 0), prod(0)}
+	c.Grammar.Prods = []api.Prod{sample.Prod(0, 1, 0), sample.Prod(0)}
 	if got, e := Open(c, "a b"); got != nil || e != api.ErrBad {
 		t.Error(e)
 	}

@@ -113,23 +113,21 @@ func (m *model) paid() int {
 func TestP27_2Model(t *testing.T) {
 	r := rand.New(rand.NewSource(2))
 	reset, twice := 0, 0
-	for _, x := range samples() {
+	for _, x := range languages() {
 		for range 250 {
 			c := x.config
 			c.Up, c.Wait, c.Jobs = r.Intn(5), 1+r.Intn(6), 1+r.Intn(6)
-			text := randomText(r, x, 60)
+			text := x.Text(r.Intn, 60)
 			s := open(t, c, text)
 			m := &model{c: c, lang: s.Lang(), text: text, tree: s.Tree()}
 			most := 1 + r.Intn(30)
 			for range 40 {
 				switch r.Intn(6) {
 				case 0, 1:
-					at := r.Intn(len(m.text) + 1)
-					del := r.Intn(min(len(m.text)-at, 4) + 1)
-					ins := randomText(r, x, 4)
+					e, ins, _ := x.Edit(r.Intn, m.text)
 					before := slices.Clone(m.jobs)
-					m.edit(at, del, ins)
-					s.Edit(at, del, ins)
+					m.edit(e.At, e.Del, ins)
+					s.Edit(e.At, e.Del, ins)
 					for _, j := range before {
 						if k, ok := dirty.Find(m.jobs, j.Slot); ok && j.Level > 0 && k.Level == 0 {
 							reset++

@@ -8,23 +8,8 @@ import (
 	"testing"
 
 	"viewport/api"
+	"viewport/sample"
 )
-
-func prod(left int, right ...int) api.Prod {
-	return api.Prod{Left: left, Right: right}
-}
-
-func random(r *rand.Rand) api.Grammar {
-	g := api.Grammar{Terms: 1 + r.Intn(3), Nons: 1 + r.Intn(4), K: 1 + r.Intn(3)}
-	for range 1 + r.Intn(8) {
-		p := prod(r.Intn(g.Nons))
-		for range r.Intn(4) {
-			p.Right = append(p.Right, r.Intn(g.Terms+g.Nons))
-		}
-		g.Prods = append(g.Prods, p)
-	}
-	return g
-}
 
 // heads returns the first K tokens of all sequences that symbols derive, by trees whose heights grow until nothing is added for long enough.
 func heads(g api.Grammar, right []int) []string {
@@ -199,7 +184,7 @@ func TestP12_1Rows(t *testing.T) {
 func TestP12_2Sets(t *testing.T) {
 	r := rand.New(rand.NewSource(3))
 	for range 250 {
-		g := random(r)
+		g := sample.Grammar(r.Intn, 3, 4, 8)
 		sets := Sets(g)
 		if len(sets) != g.Nons {
 			t.Fatal(sets)
@@ -227,7 +212,7 @@ func TestP12_2Sets(t *testing.T) {
 }
 
 func TestP12_2Errors(t *testing.T) {
-	g := api.Grammar{Terms: 2, Nons: 2, K: 2, Prods: []api.Prod{prod(0, 0, 3), prod(1), prod(1, 1, 3)}}
+	g := api.Grammar{Terms: 2, Nons: 2, K: 2, Prods: []api.Prod{sample.Prod(0, 0, 3), sample.Prod(1), sample.Prod(1, 1, 3)}}
 	sets := Sets(g)
 	if len(sets) != 2 || !slices.Equal(sets[0], []string{"\x00", "\x00\x01"}) || !slices.Equal(sets[1], []string{"", "\x01", "\x01\x01"}) {
 		t.Fatalf("%q", sets)
@@ -267,7 +252,7 @@ func TestLargeGrammar(t *testing.T) {
 			for j := range api.MaxRight {
 				right = append(right, (n*7+i*5+j*3)%(api.MaxTerms+api.MaxNons))
 			}
-			g.Prods = append(g.Prods, prod(n, right[:2*i]...))
+			g.Prods = append(g.Prods, sample.Prod(n, right[:2*i]...))
 		}
 	}
 	for n, l := range Sets(g) {
@@ -278,7 +263,7 @@ func TestLargeGrammar(t *testing.T) {
 }
 
 func TestExamples(t *testing.T) {
-	g := api.Grammar{Terms: 1, Nons: 1, K: 2, Prods: []api.Prod{prod(0, 0, 1), prod(0)}}
+	g := api.Grammar{Terms: 1, Nons: 1, K: 2, Prods: []api.Prod{sample.Prod(0, 0, 1), sample.Prod(0)}}
 	if got := Sets(g); len(got) != 1 || !slices.Equal(got[0], []string{"", "\x00", "\x00\x00"}) {
 		t.Errorf("%q", got)
 	}

@@ -8,23 +8,8 @@ import (
 
 	"viewport/api"
 	"viewport/first"
+	"viewport/sample"
 )
-
-func prod(left int, right ...int) api.Prod {
-	return api.Prod{Left: left, Right: right}
-}
-
-func random(r *rand.Rand) api.Grammar {
-	g := api.Grammar{Terms: 1 + r.Intn(3), Nons: 1 + r.Intn(4), K: 1 + r.Intn(3)}
-	for range 1 + r.Intn(8) {
-		p := prod(r.Intn(g.Nons))
-		for range r.Intn(4) {
-			p.Right = append(p.Right, r.Intn(g.Terms+g.Nons))
-		}
-		g.Prods = append(g.Prods, p)
-	}
-	return g
-}
 
 // naive goes from an occurrence with its rest to the occurrences in each production of it, from nonterminal 0 on. A rest matters by its rows alone.
 func naive(g api.Grammar) []map[string]bool {
@@ -63,7 +48,7 @@ func naive(g api.Grammar) []map[string]bool {
 func TestP13_1(t *testing.T) {
 	r := rand.New(rand.NewSource(1))
 	for range 1500 {
-		g := random(r)
+		g := sample.Grammar(r.Intn, 3, 4, 8)
 		sets, next := Sets(g), Next(g)
 		if len(sets) != g.Nons || len(next) != g.Nons {
 			t.Fatal(sets, next)
@@ -95,7 +80,7 @@ func TestP13_1(t *testing.T) {
 
 func TestP13_1Table(t *testing.T) {
 	// 2 derives only what contains itself: End follows it, but nothing follows what stands before it, as 3 does.
-	g := api.Grammar{Terms: 2, Nons: 4, K: 2, Prods: []api.Prod{prod(0, 3, 0, 3), prod(1, 1), prod(1), prod(2, 3, 4), prod(0, 5, 4), prod(3)}}
+	g := api.Grammar{Terms: 2, Nons: 4, K: 2, Prods: []api.Prod{sample.Prod(0, 3, 0, 3), sample.Prod(1, 1), sample.Prod(1), sample.Prod(2, 3, 4), sample.Prod(0, 5, 4), sample.Prod(3)}}
 	sets := Sets(g)
 	want := [][]string{{"\xff"}, {"\x00\x01", "\x00\xff", "\xff"}, {"\xff"}, nil}
 	if !slices.EqualFunc(sets, want, slices.Equal[[]string]) {
@@ -111,11 +96,11 @@ func TestP13_1Table(t *testing.T) {
 		t.Error(next)
 	}
 	// A FOLLOW that begins with End and ends the input is not End alone if a token comes before it.
-	h := api.Grammar{Terms: 1, Nons: 2, K: 2, Prods: []api.Prod{prod(0, 2, 0), prod(1, 0)}}
+	h := api.Grammar{Terms: 1, Nons: 2, K: 2, Prods: []api.Prod{sample.Prod(0, 2, 0), sample.Prod(1, 0)}}
 	if Ends(h, 1) || !Ends(h, 0) || !slices.Equal(Sets(h)[1], []string{"\x00\xff"}) {
 		t.Errorf("%q", Sets(h))
 	}
-	for _, bad := range []api.Grammar{{}, {Terms: 1, Nons: 1, K: 4, Prods: []api.Prod{prod(0)}}, {Terms: 1, Nons: 1, K: 1, Prods: []api.Prod{prod(0, 2)}}} {
+	for _, bad := range []api.Grammar{{}, {Terms: 1, Nons: 1, K: 4, Prods: []api.Prod{sample.Prod(0)}}, {Terms: 1, Nons: 1, K: 1, Prods: []api.Prod{sample.Prod(0, 2)}}} {
 		if len(Sets(bad)) != 0 || len(Next(bad)) != 0 || Ends(bad, 0) {
 			t.Errorf("%v is not valid", bad)
 		}
@@ -125,7 +110,7 @@ func TestP13_1Table(t *testing.T) {
 func TestP13_2(t *testing.T) {
 	r := rand.New(rand.NewSource(2))
 	for range 500 {
-		g := random(r)
+		g := sample.Grammar(r.Intn, 3, 4, 8)
 		sets, firsts := Sets(g), first.Sets(g)
 		if !first.Has(sets[0], "\xff") {
 			t.Fatal("End is not in the FOLLOW of 0")
@@ -146,7 +131,7 @@ func TestP13_2(t *testing.T) {
 }
 
 func TestExamples(t *testing.T) {
-	g := api.Grammar{Terms: 2, Nons: 2, K: 1, Prods: []api.Prod{prod(0, 3, 0), prod(1, 1), prod(1)}}
+	g := api.Grammar{Terms: 2, Nons: 2, K: 1, Prods: []api.Prod{sample.Prod(0, 3, 0), sample.Prod(1, 1), sample.Prod(1)}}
 	sets := Sets(g)
 	if len(sets) != 2 || !slices.Equal(sets[0], []string{"\xff"}) || !slices.Equal(sets[1], []string{"\x00"}) {
 		t.Errorf("%q", sets)

@@ -12,71 +12,17 @@ import (
 	"viewport/follow"
 	"viewport/lexer"
 	"viewport/predict"
+	"viewport/sample"
 	"viewport/tree"
 )
 
-func prod(left int, right ...int) api.Prod {
-	return api.Prod{Left: left, Right: right}
-}
-
-func rule(name, regex string) api.Rule {
-	return api.Rule{Name: name, Regex: regex, Trivia: strings.HasPrefix(name, "gap")}
-}
-
-// sample is a language for the tests, and bytes of which its texts consist.
-type sample struct {
-	rules   []api.Rule
-	grammar api.Grammar
-	bytes   string
-}
-
-func words() sample {
-	return sample{
-		[]api.Rule{rule("word", "[a-z]+"), rule("gap", "[ ]+")},
-		api.Grammar{Terms: 1, Nons: 1, K: 1, Prods: []api.Prod{prod(0, 0, 1), prod(0)}},
-		"ab  1",
-	}
-}
-
-func samples() []sample {
-	return []sample{
-		words(),
-		// Sums: numbers, signs and parentheses.
-		{
-			[]api.Rule{rule("number", "[0-9]+"), rule("plus", "[+]"), rule("open", "[(]"), rule("close", "[)]"), rule("gap", " ")},
-			api.Grammar{Terms: 4, Nons: 3, K: 1, Prods: []api.Prod{prod(0, 6, 5), prod(1, 1, 6, 5), prod(1), prod(2, 0), prod(2, 2, 4, 3)}},
-			"12++(()) x",
-		},
-		// Statements, for which two tokens decide; comments are trivia that look far ahead.
-		{
-			[]api.Rule{rule("name", "[a-z]+"), rule("is", "="), rule("stop", ";"), rule("begin", "{"), rule("end", "}"), rule("gap", "[ \n]|#.*\n")},
-			api.Grammar{Terms: 5, Nons: 2, K: 2, Prods: []api.Prod{prod(0, 6, 5), prod(0), prod(1, 0, 1, 0, 2), prod(1, 0, 2), prod(1, 3, 5, 4)}},
-			"ab=;;{} #\n!",
-		},
-		// A lexer that looks far ahead, and three tokens that decide.
-		{
-			[]api.Rule{rule("a", "a(bcb)?"), rule("b", "b|bc"), rule("c", "c")},
-			api.Grammar{Terms: 3, Nons: 3, K: 3, Prods: []api.Prod{prod(0, 4, 5, 0), prod(0, 1, 3), prod(1, 0, 0, 1), prod(1, 0, 0, 2), prod(1, 0, 1), prod(2), prod(2, 2, 2)}},
-			"aabbcc-",
-		},
-	}
-}
-
-func build(t *testing.T, s sample) *Lang {
+func build(t *testing.T, s sample.Language) *Lang {
 	t.Helper()
-	l, e := Build(s.rules, s.grammar)
+	l, e := Build(s.Rules, s.Grammar)
 	if e != api.OK {
-		t.Fatalf("%v: %d", s.grammar, e)
+		t.Fatalf("%v: %d", s.Grammar, e)
 	}
 	return l
-}
-
-func randomText(r *rand.Rand, s sample, n int) string {
-	l := make([]byte, r.Intn(n))
-	for i := range l {
-		l[i] = s.bytes[r.Intn(len(s.bytes))]
-	}
-	return string(l)
 }
 
 // naive makes trees by recursion, in the words of the document, with tables of its own.
@@ -88,10 +34,10 @@ type naive struct {
 	text  string
 }
 
-func newNaive(s sample, text string) *naive {
-	n := &naive{g: s.grammar, text: text, next: follow.Next(s.grammar)}
-	n.x, _, _ = lexer.Build(s.rules)
-	n.table, _, _ = predict.Build(s.grammar)
+func newNaive(s sample.Language, text string) *naive {
+	n := &naive{g: s.Grammar, text: text, next: follow.Next(s.Grammar)}
+	n.x, _, _ = lexer.Build(s.Rules)
+	n.table, _, _ = predict.Build(s.Grammar)
 	return n
 }
 
@@ -167,10 +113,10 @@ func (s *shape) list(l []api.Part) []api.Part {
 
 func TestP17_2(t *testing.T) {
 	r := rand.New(rand.NewSource(1))
-	for _, s := range samples() {
+	for _, s := range sample.Languages() {
 		l := build(t, s)
 		for range 400 {
-			text := randomText(r, s, 14)
+			text := s.Text(r.Intn, 14)
 			n := newNaive(s, text)
 			want := n.fresh().list(nil)
 			got, e := l.Fresh(text)
@@ -188,10 +134,10 @@ func TestP17_2(t *testing.T) {
 			for _, tok := range slices.Collect(lexer.Each(n.x, text, 0)) {
 				row = append(row, byte(tok.Kind))
 			}
-			if _, ok := cost.Derive(s.grammar, n.table, string(row[:len(row)-1])); ok != whole {
+			if _, ok := cost.Derive(s.Grammar, n.table, string(row[:len(row)-1])); ok != whole {
 				t.Fatalf("P17.3: the tokens of %q can be derived: %v", text, ok)
 			}
-			left, at := r.Intn(s.grammar.Nons), r.Intn(len(text)+1)
+			left, at := r.Intn(s.Grammar.Nons), r.Intn(len(text)+1)
 			want = n.non(left, at).list(nil)
 			got, e = l.Tree(text, left, at)
 			if e != api.OK || !tree.Same(got, want) {
@@ -203,19 +149,19 @@ func TestP17_2(t *testing.T) {
 
 func TestP17_3OtherBytes(t *testing.T) {
 	r := rand.New(rand.NewSource(2))
-	for _, s := range samples() {
+	for _, s := range sample.Languages() {
 		l := build(t, s)
 		for range 400 {
-			text := randomText(r, s, 14)
-			left, at := r.Intn(s.grammar.Nons), r.Intn(len(text)+1)
+			text := s.Text(r.Intn, 14)
+			left, at := r.Intn(s.Grammar.Nons), r.Intn(len(text)+1)
 			got, _ := l.Tree(text, left, at)
 			look := 0
 			for _, p := range got {
 				look = max(look, p.Look)
 			}
-			before, after := randomText(r, s, 6), ""
+			before, after := s.Text(r.Intn, 6), ""
 			if look <= len(text) {
-				after = randomText(r, s, 6)
+				after = s.Text(r.Intn, 6)
 			}
 			other := before + text[at:min(look, len(text))] + after
 			again, e := l.Tree(other, left, len(before))
@@ -226,70 +172,51 @@ func TestP17_3OtherBytes(t *testing.T) {
 	}
 }
 
-// towers has a great Const: each nonterminal is the next one several times, and the last one is nothing.
-func towers(height, width int, more ...api.Prod) api.Grammar {
-	g := api.Grammar{Terms: 1, Nons: height, K: 1, Prods: more}
-	for n := range height - 1 {
-		g.Prods = append(g.Prods, prod(n, slices.Repeat([]int{1 + n + 1}, width)...))
-	}
-	g.Prods = append(g.Prods, prod(height-1))
-	return g
-}
-
-// empties is a grammar of one production for each nonterminal, whose right side is nonterminals.
-func empties(rights ...[]int) api.Grammar {
-	g := api.Grammar{Terms: 1, Nons: len(rights), K: 1}
-	for n, right := range rights {
-		p := prod(n)
-		for _, m := range right {
-			p.Right = append(p.Right, 1+m)
-		}
-		g.Prods = append(g.Prods, p)
-	}
+// with adds a production to a grammar.
+func with(g api.Grammar, p api.Prod) api.Grammar {
+	g.Prods = append(g.Prods, p)
 	return g
 }
 
 func TestP17_1MaxConst(t *testing.T) {
 	// The Const of the first one is MaxConst, that of the second one is one more. Neither has too many parts for a text without bytes.
-	most := empties([]int{1, 5, 5, 5, 12}, []int{2}, []int{3}, []int{4}, []int{5, 12, 6, 6, 10}, []int{6}, []int{7, 12, 8, 10, 10, 10}, []int{8}, []int{9}, []int{10, 10, 10, 13, 10}, []int{11}, []int{12}, []int{13, 14, 13, 14}, []int{14}, nil)
-	over := empties([]int{1, 1, 7, 15, 15}, []int{2}, []int{3}, []int{4}, []int{5}, []int{6, 10, 7, 14, 11}, []int{7, 15, 14}, []int{8, 11, 11, 10, 15}, []int{9, 14, 15}, []int{10}, []int{11}, []int{12, 12, 12, 15, 12}, []int{13}, []int{14}, []int{15, 15, 15, 15}, nil)
-	l, e := Build(words().rules, most)
+	l, e := Build(sample.Words().Rules, sample.MostConst())
 	if e != api.OK || l.Most() != 0 {
 		t.Error(e, l.Most())
 	}
 	if got, e := l.Fresh(""); e != api.OK || len(got) != 730 || !Whole(got) {
 		t.Error(len(got), e)
 	}
-	if l, e := Build(words().rules, over); l != nil || e != api.ErrFull {
+	if l, e := Build(sample.Words().Rules, sample.OverConst()); l != nil || e != api.ErrFull {
 		t.Error(e)
 	}
 }
 
 func TestP17_1Build(t *testing.T) {
-	w := words()
-	long := prod(0, slices.Repeat([]int{0}, 8)...)
+	w := sample.Words()
+	long := sample.Prod(0, slices.Repeat([]int{0}, 8)...)
 	for i, x := range []struct {
 		rules []api.Rule
 		g     api.Grammar
 		want  api.Errno
 		most  int
 	}{
-		{w.rules, w.grammar, api.OK, api.MaxParts/14 - 1},
-		{nil, w.grammar, api.ErrArg, 0},
-		{[]api.Rule{rule("a", "(")}, api.Grammar{}, api.ErrMore, 0},
-		{[]api.Rule{rule("a", "a*")}, w.grammar, api.ErrBad, 0},
-		{[]api.Rule{rule("a", "a"), rule("a", "b")}, w.grammar, api.ErrThere, 0},
-		{w.rules, api.Grammar{}, api.ErrArg, 0},
-		{w.rules, api.Grammar{Terms: 9}, api.ErrLong, 0},
-		{w.rules, api.Grammar{Terms: 1, Nons: 2, K: 1, Prods: []api.Prod{prod(0), prod(1)}}, api.ErrNone, 0},
-		{w.rules, api.Grammar{Terms: 1, Nons: 1, K: 1, Prods: []api.Prod{prod(0, 1, 0), prod(0)}}, api.ErrBad, 0},
-		{w.rules, api.Grammar{Terms: 1, Nons: 1, K: 1, Prods: []api.Prod{prod(0), prod(0)}}, api.ErrState, 0},
-		{w.rules, api.Grammar{Terms: 2, Nons: 1, K: 1, Prods: []api.Prod{prod(0)}}, api.ErrArg, 0},
-		{append(slices.Clip(w.rules), rule("b", "B")), w.grammar, api.ErrArg, 0},
-		{w.rules, towers(5, 8), api.ErrFull, 0},
-		{w.rules, towers(5, 6), api.OK, 0},
-		{w.rules, towers(5, 6, long), api.ErrFull, 0},
-		{w.rules, api.Grammar{Terms: 1, Nons: 1, K: 1, Prods: []api.Prod{prod(0)}}, api.OK, api.MaxText},
+		{w.Rules, w.Grammar, api.OK, api.MaxParts/14 - 1},
+		{nil, w.Grammar, api.ErrArg, 0},
+		{[]api.Rule{api.Rule{Name: "a", Regex: "("}}, api.Grammar{}, api.ErrMore, 0},
+		{[]api.Rule{api.Rule{Name: "a", Regex: "a*"}}, w.Grammar, api.ErrBad, 0},
+		{[]api.Rule{api.Rule{Name: "a", Regex: "a"}, api.Rule{Name: "a", Regex: "b"}}, w.Grammar, api.ErrThere, 0},
+		{w.Rules, api.Grammar{}, api.ErrArg, 0},
+		{w.Rules, api.Grammar{Terms: 9}, api.ErrLong, 0},
+		{w.Rules, api.Grammar{Terms: 1, Nons: 2, K: 1, Prods: []api.Prod{sample.Prod(0), sample.Prod(1)}}, api.ErrNone, 0},
+		{w.Rules, api.Grammar{Terms: 1, Nons: 1, K: 1, Prods: []api.Prod{sample.Prod(0, 1, 0), sample.Prod(0)}}, api.ErrBad, 0},
+		{w.Rules, api.Grammar{Terms: 1, Nons: 1, K: 1, Prods: []api.Prod{sample.Prod(0), sample.Prod(0)}}, api.ErrState, 0},
+		{w.Rules, api.Grammar{Terms: 2, Nons: 1, K: 1, Prods: []api.Prod{sample.Prod(0)}}, api.ErrArg, 0},
+		{append(slices.Clip(w.Rules), api.Rule{Name: "b", Regex: "B"}), w.Grammar, api.ErrArg, 0},
+		{w.Rules, sample.Tower(5, 8), api.ErrFull, 0},
+		{w.Rules, sample.Tower(5, 6), api.OK, 0},
+		{w.Rules, with(sample.Tower(5, 6), long), api.ErrFull, 0},
+		{w.Rules, api.Grammar{Terms: 1, Nons: 1, K: 1, Prods: []api.Prod{sample.Prod(0)}}, api.OK, api.MaxText},
 	} {
 		l, e := Build(x.rules, x.g)
 		if e != x.want || (l != nil) != (e == api.OK) || l.Most() != x.most {
@@ -301,9 +228,9 @@ func TestP17_1Build(t *testing.T) {
 	}
 	// The language keeps nothing of what it was made from, and gives nothing of it away.
 	l := build(t, w)
-	w.grammar.Prods[0].Right[0] = 7
+	w.Grammar.Prods[0].Right[0] = 7
 	g := l.Grammar()
-	g.Prods[1] = prod(0, 0)
+	g.Prods[1] = sample.Prod(0, 0)
 	if got := l.Grammar(); got.Prods[0].Right[0] != 0 || len(got.Prods[1].Right) != 0 {
 		t.Error(got)
 	}
@@ -314,12 +241,12 @@ func TestP17_1Build(t *testing.T) {
 
 func TestP17_1Most(t *testing.T) {
 	// The greatest n for which c * (n + 1) is at most MaxParts.
-	for _, s := range samples() {
+	for _, s := range sample.Languages() {
 		longest := 0
-		for _, p := range s.grammar.Prods {
+		for _, p := range s.Grammar.Prods {
 			longest = max(longest, len(p.Right))
 		}
-		c := cost.Const(s.grammar)*(1+longest) + 2
+		c := cost.Const(s.Grammar)*(1+longest) + 2
 		n := build(t, s).Most()
 		if n > api.MaxText || c*(n+1) > api.MaxParts || n < api.MaxText && c*(n+2) <= api.MaxParts {
 			t.Errorf("%d, %d", c, n)
@@ -328,24 +255,24 @@ func TestP17_1Most(t *testing.T) {
 }
 
 func TestP17_1Language(t *testing.T) {
-	for _, s := range samples() {
+	for _, s := range sample.Languages() {
 		l := build(t, s)
 		n := newNaive(s, "")
-		for left := -1; left <= s.grammar.Nons; left++ {
-			exists := left >= 0 && left < s.grammar.Nons
-			for kind := -4; kind <= s.grammar.Terms+1; kind++ {
-				want := exists && (kind == api.KindEnd && n.next[left][s.grammar.Terms] || kind >= 0 && kind < s.grammar.Terms && n.next[left][kind])
+		for left := -1; left <= s.Grammar.Nons; left++ {
+			exists := left >= 0 && left < s.Grammar.Nons
+			for kind := -4; kind <= s.Grammar.Terms+1; kind++ {
+				want := exists && (kind == api.KindEnd && n.next[left][s.Grammar.Terms] || kind >= 0 && kind < s.Grammar.Terms && n.next[left][kind])
 				if got := l.Behind(left, kind); got != want {
 					t.Errorf("Behind %d, %d: %v", left, kind, got)
 				}
 			}
 			for _, row := range []string{"", "\x00", "\x01", "\xff", "\x00\x01", "\x00\x02", "\x03\x00", "\x00\x00\x02", "\xfe"} {
-				if got := l.Predict(left, row); got != predict.Predict(s.grammar, n.table, left, row) {
+				if got := l.Predict(left, row); got != predict.Predict(s.Grammar, n.table, left, row) {
 					t.Errorf("Predict %d, %q: %d", left, row, got)
 				}
 			}
 		}
-		text := s.bytes + s.bytes
+		text := s.Bytes + s.Bytes
 		for at := -1; at <= len(text)+1; at++ {
 			want, we := lexer.Next(n.x, text, at)
 			if got, e := l.Token(text, at); got != want || e != we {
@@ -356,7 +283,7 @@ func TestP17_1Language(t *testing.T) {
 }
 
 func TestP17_2Errors(t *testing.T) {
-	l := build(t, words())
+	l := build(t, sample.Words())
 	long := strings.Repeat("a", l.Most())
 	if got, e := l.Fresh(long); e != api.OK || len(got) != 5 {
 		t.Error(len(got), e)
@@ -386,7 +313,7 @@ func TestP17_2Errors(t *testing.T) {
 }
 
 func TestP17_2WholeAndText(t *testing.T) {
-	l := build(t, words())
+	l := build(t, sample.Words())
 	ab, _ := l.Fresh("a b")
 	one, _ := l.Fresh("1")
 	if !Whole(ab) || Whole(one) || Whole(nil) || Whole([]api.Part{{}}) {
@@ -413,13 +340,13 @@ func TestP17_2WholeAndText(t *testing.T) {
 }
 
 func TestP17_2Long(t *testing.T) {
-	l := build(t, words())
+	l := build(t, sample.Words())
 	text := strings.Repeat("a ", l.Most()/2)
 	got, e := l.Fresh(text)
 	if e != api.OK || len(got) != 2*(l.Most()/2)+3 || !Whole(got) || Text(got, text) != text {
 		t.Error(len(got), e)
 	}
-	sums := build(t, samples()[1])
+	sums := build(t, sample.Languages()[1])
 	text = strings.Repeat("(", sums.Most())
 	if got, e := sums.Fresh(text); e != api.OK || tree.Check(got) != api.OK || Text(got, text) != text {
 		t.Error(len(got), e)
@@ -427,7 +354,7 @@ func TestP17_2Long(t *testing.T) {
 }
 
 func TestExamples(t *testing.T) {
-	l := build(t, words())
+	l := build(t, sample.Words())
 	got, e := l.Fresh("a b")
 	want := []api.Part{
 		{Sym: api.SymRoot, Kind: api.PartRoot, To: 3, Look: 1, Kids: []int{1, 6}},

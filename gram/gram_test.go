@@ -7,27 +7,12 @@ import (
 	"testing"
 
 	"viewport/api"
+	"viewport/sample"
 )
 
-func prod(left int, right ...int) api.Prod {
-	return api.Prod{Left: left, Right: right}
-}
-
-// sample has terminals 0 and 1, and nonterminals 2 and 3.
-func sample() api.Grammar {
-	return api.Grammar{Terms: 2, Nons: 2, K: 1, Prods: []api.Prod{prod(0, 3, 0), prod(1), prod(1, 1, 3)}}
-}
-
-func random(r *rand.Rand) api.Grammar {
-	g := api.Grammar{Terms: 1 + r.Intn(3), Nons: 1 + r.Intn(5), K: 1 + r.Intn(3)}
-	for range 1 + r.Intn(9) {
-		p := prod(r.Intn(g.Nons))
-		for range r.Intn(4) {
-			p.Right = append(p.Right, r.Intn(g.Terms+g.Nons))
-		}
-		g.Prods = append(g.Prods, p)
-	}
-	return g
+// two has terminals 0 and 1, and nonterminals 2 and 3.
+func two() api.Grammar {
+	return api.Grammar{Terms: 2, Nons: 2, K: 1, Prods: []api.Prod{sample.Prod(0, 3, 0), sample.Prod(1), sample.Prod(1, 1, 3)}}
 }
 
 // derives tells by trees of a limited height whether a nonterminal derives a sequence in which terminals may occur or not.
@@ -62,23 +47,23 @@ func reaches(g api.Grammar, from, to, steps int, occurs func(p api.Prod, i int) 
 
 func TestP11_1Check(t *testing.T) {
 	long := func(f func(g *api.Grammar)) api.Grammar {
-		g := sample()
+		g := two()
 		f(&g)
 		return g
 	}
-	many := slices.Repeat([]api.Prod{prod(0, 0)}, api.MaxProds+1)
+	many := slices.Repeat([]api.Prod{sample.Prod(0, 0)}, api.MaxProds+1)
 	for i, x := range []struct {
 		g    api.Grammar
 		want api.Errno
 	}{
-		{sample(), api.OK},
+		{two(), api.OK},
 		{api.Grammar{}, api.ErrArg},
 		{long(func(g *api.Grammar) { g.Terms = 8 }), api.OK},
 		{long(func(g *api.Grammar) { g.Terms = 9 }), api.ErrLong},
 		{long(func(g *api.Grammar) { g.Terms = 0 }), api.ErrArg},
 		{long(func(g *api.Grammar) { g.Terms = -1 }), api.ErrArg},
-		{api.Grammar{Terms: 0, Nons: 1, K: 1, Prods: []api.Prod{prod(0)}}, api.ErrArg},
-		{api.Grammar{Terms: 1, Nons: 1, K: 1, Prods: []api.Prod{prod(0)}}, api.OK},
+		{api.Grammar{Terms: 0, Nons: 1, K: 1, Prods: []api.Prod{sample.Prod(0)}}, api.ErrArg},
+		{api.Grammar{Terms: 1, Nons: 1, K: 1, Prods: []api.Prod{sample.Prod(0)}}, api.OK},
 		{long(func(g *api.Grammar) { g.Terms = math.MaxInt; g.Nons = math.MaxInt }), api.ErrLong},
 		{long(func(g *api.Grammar) { g.Terms = math.MinInt; g.Nons = math.MinInt }), api.ErrArg},
 		{long(func(g *api.Grammar) { g.Nons = 16 }), api.OK},
@@ -119,13 +104,13 @@ func TestP11_1Check(t *testing.T) {
 }
 
 func TestP11_1Of(t *testing.T) {
-	g := sample()
+	g := two()
 	for left, want := range map[int][]int{0: {0}, 1: {1, 2}, 2: nil, -1: nil, math.MaxInt: nil} {
 		if got := Of(g, left); !slices.Equal(got, want) {
 			t.Errorf("Of %d: %v", left, got)
 		}
 	}
-	g.Prods = append(g.Prods, prod(0))
+	g.Prods = append(g.Prods, sample.Prod(0))
 	if got := Of(g, 0); !slices.Equal(got, []int{0, 3}) {
 		t.Error(got)
 	}
@@ -134,7 +119,7 @@ func TestP11_1Of(t *testing.T) {
 func TestP11_2Properties(t *testing.T) {
 	r := rand.New(rand.NewSource(1))
 	for range 3000 {
-		g := random(r)
+		g := sample.Grammar(r.Intn, 3, 5, 9)
 		nullable, productive, reachable := Nullable(g), Productive(g), Reachable(g)
 		if len(nullable) != g.Nons || len(productive) != g.Nons || len(reachable) != g.Nons {
 			t.Fatal("not one for each nonterminal")
@@ -179,14 +164,14 @@ func TestP11_2Left(t *testing.T) {
 		want  int
 		is    bool
 	}{
-		{[]api.Prod{prod(0, 1)}, 0, true},
-		{[]api.Prod{prod(0, 0, 1)}, 0, false},
-		{[]api.Prod{prod(0, 2, 1), prod(1, 0)}, 0, false},
-		{[]api.Prod{prod(0, 2, 1), prod(1)}, 0, true},
-		{[]api.Prod{prod(0, 2, 3), prod(1, 3), prod(2, 2), prod(2)}, 1, true},
-		{[]api.Prod{prod(0, 0, 3), prod(2, 2, 2, 3), prod(1)}, 2, true},
-		{[]api.Prod{prod(0, 0, 3), prod(2, 2, 0, 3), prod(1)}, 0, false},
-		{[]api.Prod{prod(0, 2, 0), prod(1, 1, 0), prod(2)}, 0, true},
+		{[]api.Prod{sample.Prod(0, 1)}, 0, true},
+		{[]api.Prod{sample.Prod(0, 0, 1)}, 0, false},
+		{[]api.Prod{sample.Prod(0, 2, 1), sample.Prod(1, 0)}, 0, false},
+		{[]api.Prod{sample.Prod(0, 2, 1), sample.Prod(1)}, 0, true},
+		{[]api.Prod{sample.Prod(0, 2, 3), sample.Prod(1, 3), sample.Prod(2, 2), sample.Prod(2)}, 1, true},
+		{[]api.Prod{sample.Prod(0, 0, 3), sample.Prod(2, 2, 2, 3), sample.Prod(1)}, 2, true},
+		{[]api.Prod{sample.Prod(0, 0, 3), sample.Prod(2, 2, 0, 3), sample.Prod(1)}, 0, false},
+		{[]api.Prod{sample.Prod(0, 2, 0), sample.Prod(1, 1, 0), sample.Prod(2)}, 0, true},
 	} {
 		g := api.Grammar{Terms: 1, Nons: 3, K: 1, Prods: x.prods}
 		if got, is := Left(g); got != x.want || is != x.is {
@@ -197,7 +182,7 @@ func TestP11_2Left(t *testing.T) {
 
 func TestP11_2CopyAndSame(t *testing.T) {
 	strange := api.Grammar{Terms: -5, K: 99, Prods: []api.Prod{{Left: 77, Right: []int{-9}}, {}}}
-	for _, g := range []api.Grammar{sample(), strange, {}} {
+	for _, g := range []api.Grammar{two(), strange, {}} {
 		c := Copy(g)
 		if !Same(g, c) || !Same(c, g) {
 			t.Errorf("Copy of %v: %v", g, c)
@@ -209,12 +194,12 @@ func TestP11_2CopyAndSame(t *testing.T) {
 			}
 			_ = append(c.Prods[i].Right, 1)
 		}
-		_ = append(c.Prods, prod(1))
+		_ = append(c.Prods, sample.Prod(1))
 		if len(g.Prods) > 0 && (Same(g, c) || !Same(g, Copy(g))) {
 			t.Error("a copy shares memory")
 		}
 	}
-	spare := sample()
+	spare := two()
 	spare.Prods[1].Right = make([]int, 0, 4)
 	c := Copy(spare)
 	c.Prods[1].Right = append(c.Prods[1].Right, 7)
@@ -230,9 +215,9 @@ func TestP11_2CopyAndSame(t *testing.T) {
 		func(g *api.Grammar) { g.Prods[0].Right[1] = 1 },
 		func(g *api.Grammar) { g.Prods[0].Right = g.Prods[0].Right[:1] },
 	} {
-		g := sample()
+		g := two()
 		spoil(&g)
-		if Same(g, sample()) || Same(sample(), g) {
+		if Same(g, two()) || Same(two(), g) {
 			t.Errorf("%d: the same", i)
 		}
 	}
@@ -242,7 +227,7 @@ func TestP11_2CopyAndSame(t *testing.T) {
 }
 
 func TestExamples(t *testing.T) {
-	g := sample()
+	g := two()
 	if got := Nullable(g); !slices.Equal(got, []bool{false, true}) {
 		t.Error(got)
 	}

@@ -12,75 +12,18 @@ import (
 	"viewport/fresh"
 	"viewport/lexer"
 	"viewport/predict"
+	"viewport/sample"
 	"viewport/shift"
 	"viewport/tree"
 )
 
-func prod(left int, right ...int) api.Prod {
-	return api.Prod{Left: left, Right: right}
-}
-
-func rule(name, regex string) api.Rule {
-	return api.Rule{Name: name, Regex: regex, Trivia: strings.HasPrefix(name, "gap")}
-}
-
-type sample struct {
-	rules   []api.Rule
-	grammar api.Grammar
-	bytes   string
-}
-
-func words() sample {
-	return sample{
-		[]api.Rule{rule("word", "[a-z]+"), rule("gap", "[ ]+")},
-		api.Grammar{Terms: 1, Nons: 1, K: 1, Prods: []api.Prod{prod(0, 0, 1), prod(0)}},
-		"ab  1",
-	}
-}
-
-func samples() []sample {
-	return []sample{
-		words(),
-		{
-			[]api.Rule{rule("number", "[0-9]+"), rule("plus", "[+]"), rule("open", "[(]"), rule("close", "[)]"), rule("gap", " ")},
-			api.Grammar{Terms: 4, Nons: 3, K: 1, Prods: []api.Prod{prod(0, 6, 5), prod(1, 1, 6, 5), prod(1), prod(2, 0), prod(2, 2, 4, 3)}},
-			"12++(()) x",
-		},
-		{
-			[]api.Rule{rule("name", "[a-z]+"), rule("is", "="), rule("stop", ";"), rule("begin", "{"), rule("end", "}"), rule("gap", "[ \n]|#.*\n")},
-			api.Grammar{Terms: 5, Nons: 2, K: 2, Prods: []api.Prod{prod(0, 6, 5), prod(0), prod(1, 0, 1, 0, 2), prod(1, 0, 2), prod(1, 3, 5, 4)}},
-			"ab=;;{} #\n!",
-		},
-		{
-			[]api.Rule{rule("a", "a(bcb)?"), rule("b", "b|bc"), rule("c", "c")},
-			api.Grammar{Terms: 3, Nons: 3, K: 3, Prods: []api.Prod{prod(0, 4, 5, 0), prod(0, 1, 3), prod(1, 0, 0, 1), prod(1, 0, 0, 2), prod(1, 0, 1), prod(2), prod(2, 2, 2)}},
-			"aabbcc-",
-		},
-	}
-}
-
-func build(t *testing.T, s sample) *fresh.Lang {
+func build(t *testing.T, s sample.Language) *fresh.Lang {
 	t.Helper()
-	l, e := fresh.Build(s.rules, s.grammar)
+	l, e := fresh.Build(s.Rules, s.Grammar)
 	if e != api.OK {
 		t.Fatal(e)
 	}
 	return l
-}
-
-func randomText(r *rand.Rand, s sample, n int) string {
-	l := make([]byte, r.Intn(n))
-	for i := range l {
-		l[i] = s.bytes[r.Intn(len(s.bytes))]
-	}
-	return string(l)
-}
-
-func randomEdit(r *rand.Rand, s sample, text string) (api.Edit, string) {
-	at := r.Intn(len(text) + 1)
-	del := r.Intn(min(len(text)-at, 3) + 1)
-	ins := randomText(r, s, 4)
-	return api.Edit{At: at, Del: del, Ins: len(ins)}, text[:at] + ins + text[at+del:]
 }
 
 // naive does a run by recursion, in the words of the document.
@@ -217,19 +160,19 @@ func naiveUnits(l *fresh.Lang, text string, left, at int, pool []api.Part) ([]ap
 }
 
 // runs calls f with random runs whose pools are trees that edits have met.
-func runs(t *testing.T, seed int64, times int, f func(r *rand.Rand, s sample, l *fresh.Lang, text string, left, at int, pool []api.Part)) {
+func runs(t *testing.T, seed int64, times int, f func(r *rand.Rand, s sample.Language, l *fresh.Lang, text string, left, at int, pool []api.Part)) {
 	r := rand.New(rand.NewSource(seed))
-	for _, s := range samples() {
+	for _, s := range sample.Languages() {
 		l := build(t, s)
 		for range times {
-			text := randomText(r, s, 16)
+			text := s.Text(r.Intn, 16)
 			pool, _ := l.Fresh(text)
 			if r.Intn(3) == 0 {
-				pool, _ = l.Tree(text, r.Intn(s.grammar.Nons), r.Intn(len(text)+1))
+				pool, _ = l.Tree(text, r.Intn(s.Grammar.Nons), r.Intn(len(text)+1))
 			}
 			for range r.Intn(3) {
 				var e api.Edit
-				e, text = randomEdit(r, s, text)
+				e, _, text = s.Edit(r.Intn, text)
 				pool = tree.Edit(pool, e, 1<<r.Intn(64))
 			}
 			if r.Intn(4) == 0 {
@@ -237,7 +180,7 @@ func runs(t *testing.T, seed int64, times int, f func(r *rand.Rand, s sample, l 
 			}
 			left, at := -1, 0
 			if r.Intn(2) == 0 {
-				left, at = r.Intn(s.grammar.Nons), r.Intn(len(text)+1)
+				left, at = r.Intn(s.Grammar.Nons), r.Intn(len(text)+1)
 			}
 			f(r, s, l, text, left, at, pool)
 		}
@@ -245,7 +188,7 @@ func runs(t *testing.T, seed int64, times int, f func(r *rand.Rand, s sample, l 
 }
 
 func TestP18_1Units(t *testing.T) {
-	runs(t, 1, 500, func(r *rand.Rand, s sample, l *fresh.Lang, text string, left, at int, pool []api.Part) {
+	runs(t, 1, 500, func(r *rand.Rand, s sample.Language, l *fresh.Lang, text string, left, at int, pool []api.Part) {
 		before := tree.Copy(pool)
 		units, got, e := Units(l, text, left, at, pool)
 		wantUnits, want := naiveUnits(l, text, left, at, pool)
@@ -265,7 +208,7 @@ func TestP18_1Units(t *testing.T) {
 			t.Fatalf("P18.4: the tree of %q, %d, %d with %v:\n%v\nnot\n%v", text, left, at, pool, got, same)
 		}
 		if len(pool) == 0 {
-			g := s.grammar
+			g := s.Grammar
 			longest := 0
 			for _, p := range g.Prods {
 				longest = max(longest, len(p.Right))
@@ -291,7 +234,7 @@ func TestP18_1Units(t *testing.T) {
 }
 
 func TestP18_1StrangePools(t *testing.T) {
-	s := samples()[2]
+	s := sample.Languages()[2]
 	l := build(t, s)
 	non := func(sym, at, to int, kids ...int) api.Part {
 		return api.Part{Sym: sym, Kind: api.PartNon, At: at, In: at, To: to, Look: to + 1, Kids: kids}
@@ -337,7 +280,7 @@ func TestP18_1StrangePools(t *testing.T) {
 }
 
 func TestP18_1Errors(t *testing.T) {
-	l := build(t, words())
+	l := build(t, sample.Words())
 	long := strings.Repeat("a", l.Most()+1)
 	bad := []api.Part{{}}
 	copied := *l
@@ -442,7 +385,7 @@ func (m *model) edit(e api.Edit, bit uint64) bool {
 
 func TestP18_2And3(t *testing.T) {
 	resumed, lost := 0, 0
-	runs(t, 2, 400, func(r *rand.Rand, s sample, l *fresh.Lang, text string, left, at int, pool []api.Part) {
+	runs(t, 2, 400, func(r *rand.Rand, s sample.Language, l *fresh.Lang, text string, left, at int, pool []api.Part) {
 		m, e := New(l, left, at, pool)
 		if e != api.OK || m.Paid() != 0 || m.At() != at || m.Left() != left {
 			t.Fatal(e)
@@ -454,7 +397,7 @@ func TestP18_2And3(t *testing.T) {
 		for range 12 {
 			if r.Intn(5) == 0 {
 				var edit api.Edit
-				edit, text = randomEdit(r, s, text)
+				edit, _, text = s.Edit(r.Intn, text)
 				bit := uint64(1) << r.Intn(64)
 				before := n.paid
 				on, want := m.Edit(edit, bit), n.edit(edit, bit)
@@ -469,7 +412,7 @@ func TestP18_2And3(t *testing.T) {
 			} else {
 				with := text
 				if r.Intn(12) == 0 {
-					with = randomText(r, s, 16)
+					with = s.Text(r.Intn, 16)
 				}
 				quota := r.Intn(8)
 				if r.Intn(4) == 0 {
@@ -496,7 +439,7 @@ func TestP18_2And3(t *testing.T) {
 }
 
 func TestP18_2Errors(t *testing.T) {
-	l := build(t, words())
+	l := build(t, sample.Words())
 	for i, x := range []struct {
 		l        *fresh.Lang
 		left, at int
@@ -571,7 +514,7 @@ func TestP18_2Errors(t *testing.T) {
 }
 
 func TestP18_2StepByStep(t *testing.T) {
-	s := samples()[1]
+	s := sample.Languages()[1]
 	l := build(t, s)
 	text := "1+(2+(3)+)4"
 	units, want, _ := Units(l, text, -1, 0, nil)
@@ -591,7 +534,7 @@ func TestP18_2StepByStep(t *testing.T) {
 }
 
 func TestReuseIsCheap(t *testing.T) {
-	s := samples()[2]
+	s := sample.Languages()[2]
 	l := build(t, s)
 	text := strings.Repeat("a=b;", 400)
 	pool, _ := l.Fresh(text)
@@ -608,9 +551,9 @@ func TestReuseIsCheap(t *testing.T) {
 
 func TestLexerAndTokens(t *testing.T) {
 	// A token is examined once: all Costs are those of the tokens, and one for each other unit.
-	s := words()
+	s := sample.Words()
 	l := build(t, s)
-	x, _, _ := lexer.Build(s.rules)
+	x, _, _ := lexer.Build(s.Rules)
 	text := "ab a b 1 a"
 	units, parts, _ := Units(l, text, -1, 0, nil)
 	sum := 0
@@ -629,7 +572,7 @@ func TestLexerAndTokens(t *testing.T) {
 }
 
 func TestExamples(t *testing.T) {
-	l := build(t, words())
+	l := build(t, sample.Words())
 	units, _, e := Units(l, "a", 0, 0, nil)
 	want := []api.Unit{{Cost: 2, Read: 2}, {Cost: 1, Read: 2}, {Cost: 1, Read: 2}, {Cost: 1, Read: 2}, {Cost: 1, Read: 2}}
 	if e != api.OK || !slices.Equal(units, want) {

@@ -8,31 +8,23 @@ import (
 
 	"viewport/api"
 	"viewport/fresh"
+	"viewport/sample"
 	"viewport/tree"
 )
 
-// grow appends a random part from a position on, with everything inside it.
-func grow(r *rand.Rand, l []api.Part, kind, at, depth int) []api.Part {
-	i := len(l)
-	l = append(l, api.Part{Kind: kind, At: at, In: at, To: at, Look: at + 1 + r.Intn(5)})
-	if r.Intn(8) == 0 {
-		l[i].Met = 1 << r.Intn(3)
-	}
-	switch kind {
-	case api.PartTok, api.PartSkip, api.PartEnd:
-		l[i].To += r.Intn(3)
-	case api.PartRoot, api.PartNon:
-		for range r.Intn(5) {
-			if depth == 0 {
-				break
+// trees makes trees by chance.
+func trees(r *rand.Rand) sample.Trees {
+	return sample.Trees{
+		Intn: r.Intn,
+		Sym:  func() int { return 0 },
+		Met: func() uint64 {
+			if r.Intn(8) == 0 {
+				return 1 << r.Intn(3)
 			}
-			k := len(l)
-			l = grow(r, l, api.PartNon+r.Intn(5), l[i].To, depth-1)
-			l[i].Kids = append(l[i].Kids, k)
-			l[i].To = l[k].To
-		}
+			return 0
+		},
+		Gaps: false,
 	}
-	return l
 }
 
 // reach tells the reach of a leaf by going through all others.
@@ -63,7 +55,7 @@ func leavesIn(l []api.Part, i int) []int {
 func TestP19_1(t *testing.T) {
 	r := rand.New(rand.NewSource(1))
 	for range 1500 {
-		l := grow(r, nil, api.PartRoot, 0, 4)
+		l := trees(r).Grow(api.PartRoot, 0, 4)
 		k := r.Intn(6) - 1
 		first := r.Intn(14) - 1
 		got, far := Marks(l, k, first), Reach(l, k)

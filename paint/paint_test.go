@@ -9,31 +9,19 @@ import (
 
 	"viewport/api"
 	"viewport/engine"
+	"viewport/sample"
 	"viewport/styles"
 	"viewport/tree"
 )
 
-// grow appends a random part from a position on, with everything inside it, and bytes that are in no leaf.
-func grow(r *rand.Rand, l []api.Part, kind, at, depth int) []api.Part {
-	i := len(l)
-	l = append(l, api.Part{Sym: r.Intn(3), Kind: kind, At: at, In: at, To: at, Look: at + 1})
-	switch kind {
-	case api.PartTok, api.PartSkip, api.PartEnd:
-		l[i].In += r.Intn(3)
-		l[i].To = l[i].In + r.Intn(3)
-	case api.PartRoot, api.PartNon:
-		for range r.Intn(4) {
-			if depth == 0 {
-				break
-			}
-			k := len(l)
-			l = grow(r, l, api.PartNon+r.Intn(5), l[i].To+r.Intn(5)/4, depth-1)
-			l[i].Kids = append(l[i].Kids, k)
-			l[i].To = l[k].To
-		}
-		l[i].To += r.Intn(5) / 4
+// trees makes trees by chance.
+func trees(r *rand.Rand) sample.Trees {
+	return sample.Trees{
+		Intn: r.Intn,
+		Sym:  func() int { return r.Intn(3) },
+		Met:  func() uint64 { return 0 },
+		Gaps: true,
 	}
-	return l
 }
 
 func randomStyles(r *rand.Rand) []api.Style {
@@ -73,7 +61,7 @@ func naive(t []api.Part, marks []int, list []api.Style, from, to int) []api.Pain
 func TestP28_1(t *testing.T) {
 	r := rand.New(rand.NewSource(1))
 	for range 1500 {
-		l := grow(r, nil, api.PartRoot+r.Intn(6), 0, 4)
+		l := trees(r).Grow(api.PartRoot+r.Intn(6), 0, 4)
 		if l[0].Kind == api.PartMissing {
 			continue
 		}
@@ -105,7 +93,7 @@ func TestP28_1(t *testing.T) {
 	}
 }
 
-func sample() []api.Part {
+func small() []api.Part {
 	return []api.Part{
 		{Sym: api.SymRoot, Kind: api.PartRoot, To: 9, Look: 1, Kids: []int{1, 3}},
 		{Sym: 2, Kind: api.PartNon, At: 1, In: 1, To: 5, Look: 3, Kids: []int{2}},
@@ -115,7 +103,7 @@ func sample() []api.Part {
 }
 
 func TestP28_1Errors(t *testing.T) {
-	l := sample()
+	l := small()
 	marks := []int{1, 2, 3, 3}
 	late := tree.Move(l, 1)
 	for i, x := range []struct {
@@ -142,12 +130,7 @@ func TestP28_1Errors(t *testing.T) {
 }
 
 func config() api.Config {
-	return api.Config{
-		Rules:   []api.Rule{{Name: "word", Regex: "[a-z]+"}, {Name: "gap", Regex: "[ ]+", Trivia: true}},
-		Grammar: api.Grammar{Terms: 1, Nons: 1, K: 1, Prods: []api.Prod{{Right: []int{0, 1}}, {}}},
-		Styles:  []api.Style{{Kind: 0, Style: 1}},
-		Up:      1, Wait: 5, Jobs: 4,
-	}
+	return sample.Words().Config(1, 5, 4)
 }
 
 func TestP28_1Session(t *testing.T) {

@@ -10,27 +10,12 @@ import (
 	"viewport/first"
 	"viewport/follow"
 	"viewport/gram"
+	"viewport/sample"
 )
-
-func prod(left int, right ...int) api.Prod {
-	return api.Prod{Left: left, Right: right}
-}
 
 // list is 0: t0 0; 0: nothing.
 func list(k int) api.Grammar {
-	return api.Grammar{Terms: 1, Nons: 1, K: k, Prods: []api.Prod{prod(0, 0, 1), prod(0)}}
-}
-
-func random(r *rand.Rand) api.Grammar {
-	g := api.Grammar{Terms: 1 + r.Intn(3), Nons: 1 + r.Intn(3), K: 1 + r.Intn(3)}
-	for range 1 + r.Intn(6) {
-		p := prod(r.Intn(g.Nons))
-		for range r.Intn(4) {
-			p.Right = append(p.Right, r.Intn(g.Terms+g.Nons))
-		}
-		g.Prods = append(g.Prods, p)
-	}
-	return g
+	return api.Grammar{Terms: 1, Nons: 1, K: k, Prods: []api.Prod{sample.Prod(0, 0, 1), sample.Prod(0)}}
 }
 
 // naive tells the first conflict by going through all possible rows.
@@ -65,7 +50,7 @@ func TestP14_1(t *testing.T) {
 	r := rand.New(rand.NewSource(1))
 	strong := 0
 	for range 3000 {
-		g := random(r)
+		g := sample.Grammar(r.Intn, 3, 3, 6)
 		want, is := naive(g)
 		c, ok := Strong(g)
 		if c != want || ok == is {
@@ -123,10 +108,10 @@ func TestP14_1(t *testing.T) {
 
 func TestP14_1Errors(t *testing.T) {
 	long := list(4)
-	left := api.Grammar{Terms: 1, Nons: 1, K: 1, Prods: []api.Prod{prod(0, 1, 0), prod(0)}}
-	idle := api.Grammar{Terms: 1, Nons: 2, K: 1, Prods: []api.Prod{prod(0, 1, 0), prod(0), prod(1)}}
-	weak := api.Grammar{Terms: 1, Nons: 1, K: 1, Prods: []api.Prod{prod(0), prod(0)}}
-	barren := api.Grammar{Terms: 1, Nons: 2, K: 1, Prods: []api.Prod{prod(0, 2), prod(0), prod(0)}}
+	left := api.Grammar{Terms: 1, Nons: 1, K: 1, Prods: []api.Prod{sample.Prod(0, 1, 0), sample.Prod(0)}}
+	idle := api.Grammar{Terms: 1, Nons: 2, K: 1, Prods: []api.Prod{sample.Prod(0, 1, 0), sample.Prod(0), sample.Prod(1)}}
+	weak := api.Grammar{Terms: 1, Nons: 1, K: 1, Prods: []api.Prod{sample.Prod(0), sample.Prod(0)}}
+	barren := api.Grammar{Terms: 1, Nons: 2, K: 1, Prods: []api.Prod{sample.Prod(0, 2), sample.Prod(0), sample.Prod(0)}}
 	for i, x := range []struct {
 		g             api.Grammar
 		accept, build api.Errno
@@ -157,16 +142,16 @@ func TestP14_1Errors(t *testing.T) {
 
 func TestP14_1FirstConflict(t *testing.T) {
 	// Nonterminal 1 has conflicts between 2 and 5, 2 and 6, 4 and 5 ..., nonterminal 0 one between 0 and 7.
-	g := api.Grammar{Terms: 3, Nons: 2, K: 1, Prods: []api.Prod{prod(1, 0), prod(1, 1), prod(1, 2, 1), prod(0, 0, 4), prod(1, 1, 2), prod(1, 2), prod(1, 2, 2), prod(0, 1)}}
+	g := api.Grammar{Terms: 3, Nons: 2, K: 1, Prods: []api.Prod{sample.Prod(1, 0), sample.Prod(1, 1), sample.Prod(1, 2, 1), sample.Prod(0, 0, 4), sample.Prod(1, 1, 2), sample.Prod(1, 2), sample.Prod(1, 2, 2), sample.Prod(0, 1)}}
 	if c, ok := Strong(g); ok || c != (api.Conflict{Left: 1, A: 1, B: 4, Row: "\x01"}) {
 		t.Error(c, ok)
 	}
-	g.Prods = append(g.Prods, prod(0, 4))
+	g.Prods = append(g.Prods, sample.Prod(0, 4))
 	if c, ok := Strong(g); ok || c != (api.Conflict{Left: 0, A: 3, B: 8, Row: "\x00"}) {
 		t.Error(c, ok)
 	}
 	// Both productions have two rows in common.
-	h := api.Grammar{Terms: 3, Nons: 2, K: 1, Prods: []api.Prod{prod(1, 2), prod(1, 1), prod(0, 4, 0), prod(0, 4)}}
+	h := api.Grammar{Terms: 3, Nons: 2, K: 1, Prods: []api.Prod{sample.Prod(1, 2), sample.Prod(1, 1), sample.Prod(0, 4, 0), sample.Prod(0, 4)}}
 	if c, ok := Strong(h); ok || c != (api.Conflict{Left: 0, A: 2, B: 3, Row: "\x01"}) {
 		t.Error(c, ok)
 	}
@@ -255,7 +240,7 @@ func TestRowsShareNoMemory(t *testing.T) {
 }
 
 func TestExamples(t *testing.T) {
-	g := api.Grammar{Terms: 2, Nons: 1, K: 1, Prods: []api.Prod{prod(0, 0, 1), prod(0, 0, 0)}}
+	g := api.Grammar{Terms: 2, Nons: 1, K: 1, Prods: []api.Prod{sample.Prod(0, 0, 1), sample.Prod(0, 0, 0)}}
 	if c, ok := Strong(g); ok || c != (api.Conflict{Left: 0, A: 0, B: 1, Row: "\x00"}) {
 		t.Error(c, ok)
 	}

@@ -7,31 +7,23 @@ import (
 
 	"viewport/api"
 	"viewport/fresh"
+	"viewport/sample"
 	"viewport/tree"
 )
 
-// grow appends a random part from a position on, with everything inside it.
-func grow(r *rand.Rand, l []api.Part, kind, at, depth int) []api.Part {
-	i := len(l)
-	l = append(l, api.Part{Sym: r.Intn(3), Kind: kind, At: at, In: at, To: at, Look: at + 1 + r.Intn(3)})
-	if r.Intn(7) == 0 {
-		l[i].Met = 1 << r.Intn(64)
-	}
-	switch kind {
-	case api.PartTok, api.PartSkip, api.PartEnd:
-		l[i].To += r.Intn(3)
-	case api.PartRoot, api.PartNon:
-		for range r.Intn(4) {
-			if depth == 0 {
-				break
+// trees makes trees by chance.
+func trees(r *rand.Rand) sample.Trees {
+	return sample.Trees{
+		Intn: r.Intn,
+		Sym:  func() int { return r.Intn(3) },
+		Met: func() uint64 {
+			if r.Intn(7) == 0 {
+				return 1 << r.Intn(64)
 			}
-			k := len(l)
-			l = grow(r, l, api.PartNon+r.Intn(5), l[i].To, depth-1)
-			l[i].Kids = append(l[i].Kids, k)
-			l[i].To = l[k].To
-		}
+			return 0
+		},
+		Gaps: false,
 	}
-	return l
 }
 
 // clean tells by recursion whether nothing has met a part or what is inside it.
@@ -54,7 +46,7 @@ func outermost(l []api.Part, i int) []int {
 func TestP21_1(t *testing.T) {
 	r := rand.New(rand.NewSource(1))
 	for range 1500 {
-		l := grow(r, nil, api.PartRoot+r.Intn(2), 0, 4)
+		l := trees(r).Grow(api.PartRoot+r.Intn(2), 0, 4)
 		before := tree.Copy(l)
 		want := outermost(l, 0)
 		if got := All(l); !slices.Equal(got, want) {

@@ -7,31 +7,23 @@ import (
 	"testing"
 
 	"viewport/api"
+	"viewport/sample"
 	"viewport/tree"
 )
 
-// grow appends a random part from a position on, with everything inside it.
-func grow(r *rand.Rand, l []api.Part, kind, at, depth int) []api.Part {
-	i := len(l)
-	l = append(l, api.Part{Sym: r.Intn(2), Kind: kind, At: at, In: at, To: at, Look: at + 1 + r.Intn(3)})
-	if r.Intn(4) == 0 {
-		l[i].Met = 1<<r.Intn(3) | 1<<(61+r.Intn(3))
-	}
-	switch kind {
-	case api.PartTok, api.PartSkip, api.PartEnd:
-		l[i].To += r.Intn(3)
-	case api.PartRoot, api.PartNon:
-		for range r.Intn(4) {
-			if depth == 0 {
-				break
+// trees makes trees by chance.
+func trees(r *rand.Rand) sample.Trees {
+	return sample.Trees{
+		Intn: r.Intn,
+		Sym:  func() int { return r.Intn(2) },
+		Met: func() uint64 {
+			if r.Intn(4) == 0 {
+				return 1<<r.Intn(3) | 1<<(61+r.Intn(3))
 			}
-			k := len(l)
-			l = grow(r, l, api.PartNon+r.Intn(5), l[i].To, depth-1)
-			l[i].Kids = append(l[i].Kids, k)
-			l[i].To = l[k].To
-		}
+			return 0
+		},
+		Gaps: false,
 	}
-	return l
 }
 
 func randomJobs(r *rand.Rand, n int) []api.Dirty {
@@ -67,9 +59,9 @@ func TestP20_1(t *testing.T) {
 	r := rand.New(rand.NewSource(1))
 	fitted, spliced, undone := 0, 0, 0
 	for range 8000 {
-		l := grow(r, nil, api.PartRoot, 0, 4)
+		l := trees(r).Grow(api.PartRoot, 0, 4)
 		i := r.Intn(len(l))
-		sub := grow(r, nil, l[i].Kind, l[i].At, 3)
+		sub := trees(r).Grow(l[i].Kind, l[i].At, 3)
 		if r.Intn(2) == 0 {
 			sub[0].Sym = l[i].Sym
 			if sub[0].Kind <= api.PartNon {
@@ -134,7 +126,7 @@ func TestP20_1(t *testing.T) {
 	}
 }
 
-func sample() []api.Part {
+func small() []api.Part {
 	return []api.Part{
 		{Sym: api.SymRoot, Kind: api.PartRoot, To: 3, Look: 1, Kids: []int{1, 3}},
 		{Sym: 1, Kind: api.PartNon, To: 2, Look: 3, Kids: []int{2}, Met: 2},
@@ -144,7 +136,7 @@ func sample() []api.Part {
 }
 
 func TestP20_1Errors(t *testing.T) {
-	l := sample()
+	l := small()
 	sub := tree.Sub(l, 1)
 	bad := []api.Part{{}}
 	many := []api.Part{{Sym: 1, Kind: api.PartNon, To: 2, Look: 3}}
@@ -203,7 +195,7 @@ func TestP20_1Errors(t *testing.T) {
 }
 
 func TestP20_1Done(t *testing.T) {
-	l := sample()
+	l := small()
 	for n, x := range []struct {
 		i, slot, from, to int
 		want              bool
@@ -261,13 +253,13 @@ func TestP20_2(t *testing.T) {
 	if len(Clear(nil, 1)) != 0 || len(Give(nil, 0, 1)) != 0 {
 		t.Error("no parts")
 	}
-	if Bits(sample()) != 1<<63|3 || Bits(strange) != 0 || Bits(nil) != 0 {
+	if Bits(small()) != 1<<63|3 || Bits(strange) != 0 || Bits(nil) != 0 {
 		t.Error("Bits")
 	}
 }
 
 func TestExamples(t *testing.T) {
-	l := sample()
+	l := small()
 	l[2].Met = 0
 	sub := tree.Bare(tree.Sub(l, 1))
 	out, done, e := Splice(l, 1, sub, []api.Dirty{{Slot: 1, Span: api.Span{From: 3, To: 3}}})

@@ -8,36 +8,24 @@ import (
 
 	"viewport/api"
 	"viewport/fresh"
+	"viewport/sample"
 	"viewport/splice"
 	"viewport/tree"
 )
 
-// grow appends a random part from a position on, with everything inside it.
-func grow(r *rand.Rand, l []api.Part, kind, at, depth int) []api.Part {
-	i := len(l)
-	l = append(l, api.Part{Sym: 3 + r.Intn(3), Kind: kind, At: at, In: at, To: at, Look: at + 1 + r.Intn(3)})
-	if r.Intn(9) == 0 {
-		l[i].Met = 1 << []int{0, 1, 63}[r.Intn(3)]
-	}
-	switch kind {
-	case api.PartTok, api.PartSkip, api.PartEnd:
-		l[i].To += r.Intn(3)
-	case api.PartRoot, api.PartNon:
-		for range r.Intn(4) {
-			if depth == 0 {
-				break
+// trees makes trees by chance.
+func trees(r *rand.Rand) sample.Trees {
+	return sample.Trees{
+		Intn: r.Intn,
+		Sym:  func() int { return 3 + r.Intn(3) },
+		Met: func() uint64 {
+			if r.Intn(9) == 0 {
+				return 1 << []int{0, 1, 63}[r.Intn(3)]
 			}
-			k := len(l)
-			next := api.PartNon + r.Intn(5)
-			if r.Intn(2) == 0 {
-				next = api.PartNon
-			}
-			l = grow(r, l, next, l[i].To, depth-1)
-			l[i].Kids = append(l[i].Kids, k)
-			l[i].To = l[k].To
-		}
+			return 0
+		},
+		Gaps: false,
 	}
-	return l
 }
 
 func holds(l []api.Part, i int, j api.Dirty) bool {
@@ -58,7 +46,7 @@ func TestP25_1(t *testing.T) {
 	r := rand.New(rand.NewSource(1))
 	deep := 0
 	for range 3000 {
-		l := grow(r, nil, api.PartRoot, 0, 5)
+		l := trees(r).Grow(api.PartRoot, 0, 5)
 		from := r.Intn(l[0].To + 2)
 		j := api.Dirty{Slot: []int{0, 1, 2, 63, 64, -1}[r.Intn(6)], Span: api.Span{From: from, To: from + r.Intn(3) - r.Intn(2)}, Level: r.Intn(5) - 1}
 		for i := -1; i <= len(l); i++ {
@@ -104,7 +92,7 @@ func TestP25_1(t *testing.T) {
 func TestP25_1Run(t *testing.T) {
 	r := rand.New(rand.NewSource(2))
 	for range 300 {
-		l := grow(r, nil, api.PartRoot, 0, 4)
+		l := trees(r).Grow(api.PartRoot, 0, 4)
 		before := tree.Copy(l)
 		for i := -1; i <= len(l); i++ {
 			wantLeft, wantAt := -2, 0

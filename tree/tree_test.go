@@ -7,15 +7,26 @@ import (
 	"testing"
 
 	"viewport/api"
+	"viewport/sample"
 	"viewport/shift"
 )
+
+// trees makes trees by chance.
+func trees(r *rand.Rand) sample.Trees {
+	return sample.Trees{
+		Intn: r.Intn,
+		Sym:  func() int { return r.Intn(4) },
+		Met:  func() uint64 { return uint64(r.Intn(4)) >> 1 },
+		Gaps: true,
+	}
+}
 
 func part(kind, sym, at, in, to, look int, kids ...int) api.Part {
 	return api.Part{Kind: kind, Sym: sym, At: at, In: in, To: to, Look: look, Kids: kids}
 }
 
-// sample is the tree of a b, as layer 17 makes it: a root, 0, a, 0, b, 0, the end.
-func sample() []api.Part {
+// small is the tree of a b, as layer 17 makes it: a root, 0, a, 0, b, 0, the end.
+func small() []api.Part {
 	return []api.Part{
 		part(api.PartRoot, api.SymRoot, 0, 0, 3, 1, 1, 6),
 		part(api.PartNon, 1, 0, 0, 3, 2, 2, 3),
@@ -27,34 +38,11 @@ func sample() []api.Part {
 	}
 }
 
-// grow appends a random part from a position on, with everything inside it.
-func grow(r *rand.Rand, l []api.Part, kind, at, depth int) []api.Part {
-	i := len(l)
-	l = append(l, api.Part{Kind: kind, Sym: r.Intn(4), At: at, In: at, To: at, Look: at + 1 + r.Intn(4), Met: uint64(r.Intn(4)) >> 1})
-	switch kind {
-	case api.PartTok, api.PartSkip, api.PartEnd:
-		l[i].In += r.Intn(3)
-		l[i].To = l[i].In + r.Intn(3)
-	case api.PartRoot, api.PartNon:
-		for range r.Intn(4) {
-			if depth == 0 {
-				break
-			}
-			k := len(l)
-			l = grow(r, l, api.PartNon+r.Intn(5), l[i].To+r.Intn(8)/7, depth-1)
-			l[i].Kids = append(l[i].Kids, k)
-			l[i].To = l[k].To
-		}
-		l[i].To += r.Intn(8) / 7
-	}
-	return l
-}
-
 func random(r *rand.Rand) []api.Part {
 	if r.Intn(4) == 0 {
-		return grow(r, nil, api.PartNon, r.Intn(3), 4)
+		return trees(r).Grow(api.PartNon, r.Intn(3), 4)
 	}
-	return grow(r, nil, api.PartRoot, 0, 4)
+	return trees(r).Grow(api.PartRoot, 0, 4)
 }
 
 // inside tells by recursion over children which parts are part i or inside it.
@@ -67,7 +55,7 @@ func inside(l []api.Part, i int) []int {
 }
 
 func TestP16_1Check(t *testing.T) {
-	if Check(sample()) != api.OK {
+	if Check(small()) != api.OK {
 		t.Fatal("the sample")
 	}
 	most := []api.Part{part(api.PartRoot, 0, 0, 0, 0, 1)}
@@ -127,13 +115,13 @@ func TestP16_1Check(t *testing.T) {
 		func(l []api.Part) { l[1].At, l[1].In = 1, 1 },
 		func(l []api.Part) { l[6].At = 2 },
 	} {
-		l := sample()
+		l := small()
 		spoil(l)
 		if got := Check(l); got != api.ErrArg {
 			t.Errorf("%d: Check: %d", i, got)
 		}
-		put, e1 := Put(l, 0, sample())
-		put2, e2 := Put(sample(), 0, l)
+		put, e1 := Put(l, 0, small())
+		put2, e2 := Put(small(), 0, l)
 		found, ok := Find(l, 1, 0)
 		if End(l, 0) != 0 || len(Sub(l, 0)) != 0 || len(Parents(l)) != 0 || len(Path(l, 0)) != 0 || len(Leaves(l)) != 0 || len(put) != 0 || e1 != api.ErrArg || len(put2) != 0 || e2 != api.ErrArg || found != 0 || ok || len(Bare(l)) != 0 || len(Move(l, 0)) != 0 || len(Edit(l, api.Edit{}, 1)) != 0 || len(Stale(l)) != 0 {
 			t.Errorf("%d: a tree that is not valid is used", i)
@@ -151,7 +139,7 @@ func TestP16_1Check(t *testing.T) {
 		func(l []api.Part) { l[3].Kids = []int{4}; l[1].Kids = []int{2, 3, 5} },
 		func(l []api.Part) { l[1].Kids = []int{2, 3, 6}; l[0].Kids = []int{1} },
 	} {
-		l := sample()
+		l := small()
 		spoil(l)
 		if got := Check(l); got != api.OK {
 			t.Errorf("%d: Check: %d", i, got)
@@ -213,9 +201,9 @@ func TestP16_1Places(t *testing.T) {
 			t.Fatal(got, ok)
 		}
 	}
-	l := sample()
+	l := small()
 	for _, i := range []int{-1, 7, math.MaxInt, math.MinInt} {
-		put, e := Put(l, i, sample())
+		put, e := Put(l, i, small())
 		if End(l, i) != 0 || len(Sub(l, i)) != 0 || len(Path(l, i)) != 0 || len(put) != 0 || e != api.ErrArg {
 			t.Errorf("there is no part %d", i)
 		}
@@ -231,7 +219,7 @@ func TestP16_2Put(t *testing.T) {
 		if e != api.OK || !Same(got, l) {
 			t.Fatalf("P16.3: Put of Sub: %d", e)
 		}
-		sub := grow(r, nil, l[i].Kind, l[i].At, 3)
+		sub := trees(r).Grow(l[i].Kind, l[i].At, 3)
 		fits := sub[0].Sym == l[i].Sym && sub[0].To == l[i].To
 		if r.Intn(2) == 0 && sub[0].To <= l[i].To && l[i].Kind <= api.PartNon {
 			sub[0].Sym, sub[0].To, fits = l[i].Sym, l[i].To, true
@@ -258,7 +246,7 @@ func TestP16_2Put(t *testing.T) {
 }
 
 func TestP16_2PutErrors(t *testing.T) {
-	l := sample()
+	l := small()
 	sub := Sub(l, 3)
 	for i, spoil := range []func(p *api.Part){
 		func(p *api.Part) { p.Sym = 2 },
@@ -334,7 +322,7 @@ func TestP16_2MoveAndBare(t *testing.T) {
 			t.Fatal("a tree before the beginning")
 		}
 	}
-	l := sample()
+	l := small()
 	if got := Move(l, 1<<40); len(got) != 7 || got[4].In != 1<<40+2 {
 		t.Error(got)
 	}
@@ -356,7 +344,7 @@ func TestP16_2MoveAndBare(t *testing.T) {
 
 func TestP16_2CopyAndSame(t *testing.T) {
 	strange := []api.Part{{Kids: []int{9, -9}, Met: 5}, {Kind: 99}}
-	for _, l := range [][]api.Part{sample(), strange, nil} {
+	for _, l := range [][]api.Part{small(), strange, nil} {
 		c := Copy(l)
 		if !Same(c, l) || !Same(l, c) {
 			t.Error(c)
@@ -375,13 +363,13 @@ func TestP16_2CopyAndSame(t *testing.T) {
 		func(p *api.Part) { p.Sym++ }, func(p *api.Part) { p.Kind++ }, func(p *api.Part) { p.At++ }, func(p *api.Part) { p.In++ },
 		func(p *api.Part) { p.To++ }, func(p *api.Part) { p.Look++ }, func(p *api.Part) { p.Met++ }, func(p *api.Part) { p.Kids = p.Kids[1:] },
 	} {
-		l := sample()
+		l := small()
 		spoil(&l[3])
-		if Same(l, sample()) || Same(sample(), l) {
+		if Same(l, small()) || Same(small(), l) {
 			t.Errorf("%d: the same", i)
 		}
 	}
-	if Same(sample(), sample()[:6]) || !Same(nil, []api.Part{}) || !Same([]api.Part{{}}, []api.Part{{Kids: []int{}}}) {
+	if Same(small(), small()[:6]) || !Same(nil, []api.Part{}) || !Same([]api.Part{{}}, []api.Part{{Kids: []int{}}}) {
 		t.Error("Same")
 	}
 }
@@ -469,11 +457,11 @@ func TestP16_4Table(t *testing.T) {
 		part(api.PartEnd, api.KindEnd, 4, 4, 4, 5),
 	}
 	want[1].Met, want[2].Met = 4, 4
-	if got := Edit(sample(), api.Edit{At: 1, Ins: 1}, 4); !Same(got, want) {
+	if got := Edit(small(), api.Edit{At: 1, Ins: 1}, 4); !Same(got, want) {
 		t.Error(got)
 	}
 	// Everything is removed.
-	got := Edit(sample(), api.Edit{Del: 3}, 1)
+	got := Edit(small(), api.Edit{Del: 3}, 1)
 	for i, p := range got {
 		met := uint64(1)
 		if i >= 5 {
@@ -484,28 +472,28 @@ func TestP16_4Table(t *testing.T) {
 		}
 	}
 	// An edit after everything meets nothing, but the root becomes longer.
-	l := sample()
+	l := small()
 	l[5].Look, l[6].Look, l[3].Look, l[4].Look = 4, 4, 4, 4
 	got = Edit(l, api.Edit{At: 4, Ins: 2}, 1)
 	if got[0].To != 5 || got[6].To != 3 || slices.Contains(Stale(got), true) {
 		t.Error(got)
 	}
 	// At 0 the root is met, but what begins there is not: it moves.
-	got = Edit(sample(), api.Edit{Ins: 2}, 8)
+	got = Edit(small(), api.Edit{Ins: 2}, 8)
 	if got[0].Met != 8 || got[0].At != 0 || got[0].To != 5 || got[1].Met != 0 || got[1].At != 2 {
 		t.Error(got)
 	}
 	// A Look that would end before the edit reaches to its first byte.
-	got = Edit(sample(), api.Edit{At: 1, Del: 2}, 2)
+	got = Edit(small(), api.Edit{At: 1, Del: 2}, 2)
 	if got[2].Look != 2 || got[2].Met != 2 || got[2].To != 1 {
 		t.Error(got[2])
 	}
 	for _, e := range []api.Edit{{At: -1}, {Del: -1}, {Ins: -1}, {At: math.MinInt}} {
-		if len(Edit(sample(), e, 1)) != 0 {
+		if len(Edit(small(), e, 1)) != 0 {
 			t.Error(e)
 		}
 	}
-	huge := sample()
+	huge := small()
 	huge[0].To, huge[6].Look = math.MaxInt, math.MaxInt
 	for _, e := range []api.Edit{{At: 2, Del: math.MaxInt, Ins: math.MaxInt}, {At: math.MaxInt, Ins: math.MaxInt}, {Del: math.MaxInt}, {Ins: math.MaxInt}} {
 		if got := Edit(huge, e, 1); Check(got) != api.OK {
@@ -561,7 +549,7 @@ func TestDeepTree(t *testing.T) {
 }
 
 func TestResultsShareNoMemory(t *testing.T) {
-	l := sample()
+	l := small()
 	put, _ := Put(l, 3, Sub(l, 3))
 	for i, out := range [][]api.Part{Sub(l, 0), put, Bare(l), Move(l, 1), Copy(l), Edit(l, api.Edit{At: 1, Ins: 1}, 1)} {
 		for j := range out {
@@ -570,7 +558,7 @@ func TestResultsShareNoMemory(t *testing.T) {
 			}
 			_ = append(out[j].Kids, -7)
 		}
-		if !Same(l, sample()) {
+		if !Same(l, small()) {
 			t.Fatalf("%d: shares memory", i)
 		}
 		for j := range out {

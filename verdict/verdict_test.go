@@ -11,65 +11,27 @@ import (
 	"viewport/cost"
 	"viewport/fresh"
 	"viewport/marks"
+	"viewport/sample"
 	"viewport/tree"
 	"viewport/world"
 )
 
-func prod(left int, right ...int) api.Prod {
-	return api.Prod{Left: left, Right: right}
+func words() api.Config {
+	c := sample.Words().Config(1, 5, 4)
+	c.Styles = append(c.Styles, api.Style{Kind: 0, Path: []int{1, 1}, Style: 2, Prio: 1})
+	return c
 }
 
-func rule1(name, regex string) api.Rule {
-	return api.Rule{Name: name, Regex: regex, Trivia: strings.HasPrefix(name, "gap")}
-}
-
-type sample struct {
-	config api.Config
-	bytes  string
-}
-
-func words() sample {
-	return sample{api.Config{
-		Rules:   []api.Rule{rule1("word", "[a-z]+"), rule1("gap", "[ ]+")},
-		Grammar: api.Grammar{Terms: 1, Nons: 1, K: 1, Prods: []api.Prod{prod(0, 0, 1), prod(0)}},
-		Styles:  []api.Style{{Kind: 0, Style: 1}, {Kind: 0, Path: []int{1, 1}, Style: 2, Prio: 1}},
-		Up:      1, Wait: 5, Jobs: 4,
-	}, "ab  1"}
-}
-
-func samples() []sample {
-	return []sample{
-		words(),
-		{api.Config{
-			Rules:   []api.Rule{rule1("number", "[0-9]+"), rule1("plus", "[+]"), rule1("open", "[(]"), rule1("close", "[)]"), rule1("gap", " ")},
-			Grammar: api.Grammar{Terms: 4, Nons: 3, K: 1, Prods: []api.Prod{prod(0, 6, 5), prod(1, 1, 6, 5), prod(1), prod(2, 0), prod(2, 2, 4, 3)}},
-			Styles:  []api.Style{{Kind: 0, Style: 1}, {Kind: -1, Style: 9}, {Kind: 1, Path: []int{4, 5}, Style: 3}},
-			Up:      2, Wait: 2, Jobs: 2,
-		}, "12++(()) x"},
-		{api.Config{
-			Rules:   []api.Rule{rule1("name", "[a-z]+"), rule1("is", "="), rule1("stop", ";"), rule1("begin", "{"), rule1("end", "}"), rule1("gap", "[ \n]|#.*\n")},
-			Grammar: api.Grammar{Terms: 5, Nons: 2, K: 2, Prods: []api.Prod{prod(0, 6, 5), prod(0), prod(1, 0, 1, 0, 2), prod(1, 0, 2), prod(1, 3, 5, 4)}},
-			Up:      8, Wait: 1, Jobs: 3,
-		}, "ab=;;{} #\n!"},
-		{api.Config{
-			Rules:   []api.Rule{rule1("a", "a(bcb)?"), rule1("b", "b|bc"), rule1("c", "c")},
-			Grammar: api.Grammar{Terms: 3, Nons: 3, K: 3, Prods: []api.Prod{prod(0, 4, 5, 0), prod(0, 1, 3), prod(1, 0, 0, 1), prod(1, 0, 0, 2), prod(1, 0, 1), prod(2), prod(2, 2, 2)}},
-			Up:      0, Wait: 1000, Jobs: 32,
-		}, "aabbcc-"},
-	}
-}
-
-func randomText(r *rand.Rand, s sample, n int) string {
-	l := make([]byte, r.Intn(n))
-	for i := range l {
-		l[i] = s.bytes[r.Intn(len(s.bytes))]
-	}
-	return string(l)
+// configs returns a configuration for each of the languages.
+func configs() []api.Config {
+	sums := sample.Sums().Config(2, 2, 2)
+	sums.Styles = append(sums.Styles, api.Style{Kind: -1, Style: 9}, api.Style{Kind: 1, Path: []int{4, 5}, Style: 3})
+	return []api.Config{words(), sums, sample.Statements().Config(8, 1, 3), sample.Letters().Config(0, 1000, 32)}
 }
 
 // randomAct returns an act that may be wrong.
-func randomAct(r *rand.Rand, s sample, n int) api.Act {
-	a := api.Act{Kind: 1 + r.Intn(4), At: r.Intn(n + 2), Del: r.Intn(4), Ins: randomText(r, s, 4), From: r.Intn(n + 2), Quota: r.Intn(15)}
+func randomAct(r *rand.Rand, l sample.Language, n int) api.Act {
+	a := api.Act{Kind: 1 + r.Intn(4), At: r.Intn(n + 2), Del: r.Intn(4), Ins: l.Text(r.Intn, 4), From: r.Intn(n + 2), Quota: r.Intn(15)}
 	a.To = a.From + r.Intn(n+2)
 	switch r.Intn(20) {
 	case 0:
@@ -84,24 +46,25 @@ func randomAct(r *rand.Rand, s sample, n int) api.Act {
 
 func TestP30_3(t *testing.T) {
 	r := rand.New(rand.NewSource(1))
-	for _, s := range samples() {
+	for n, c := range configs() {
+		l := sample.Languages()[n]
 		for range 60 {
-			text := randomText(r, s, 30)
-			w, e := world.New(s.config, text)
+			text := l.Text(r.Intn, 30)
+			w, e := world.New(c, text)
 			if e != api.OK {
 				t.Fatal(e)
 			}
 			var acts []api.Act
 			for range 30 {
-				a := randomAct(r, s, len(w.Session().Text()))
+				a := randomAct(r, l, len(w.Session().Text()))
 				acts = append(acts, a)
 				w.Do(a)
 			}
-			if got := Of(s.config, text, acts); got != (api.Judged{OK: true, At: -1}) {
+			if got := Of(c, text, acts); got != (api.Judged{OK: true, At: -1}) {
 				t.Fatalf("%q, %v: %v", text, acts, got)
 			}
 			jobs := len(w.Session().Jobs())
-			bound := Bound(w.Session().Lang(), len(w.Session().Text()), jobs, s.config.Up)
+			bound := Bound(w.Session().Lang(), len(w.Session().Text()), jobs, c.Up)
 			if _, ok := w.Idle(bound); !ok {
 				t.Fatalf("%q, %v: jobs are left after %d steps", text, acts, bound)
 			}
@@ -112,7 +75,7 @@ func TestP30_3(t *testing.T) {
 // script is one that has something of everything, and what is seen of it: an edit, a tick too short for it, paint, an error, the rest, paint.
 func script(t *testing.T) (api.Config, string, []api.Seen) {
 	t.Helper()
-	c, text := words().config, "a aa b 1 c"
+	c, text := words(), "a aa b 1 c"
 	l, e := world.Run(c, text, []api.Act{
 		{Kind: api.ActView, From: 1, To: 5},
 		{Kind: api.ActEdit, At: 6, Ins: "x"},
@@ -375,9 +338,9 @@ func TestP30_2Line(t *testing.T) {
 }
 
 func TestP30_2Bound(t *testing.T) {
-	for _, s := range samples() {
-		g := s.config.Grammar
-		l, _ := fresh.Build(s.config.Rules, g)
+	for _, c := range configs() {
+		g := c.Grammar
+		l, _ := fresh.Build(c.Rules, g)
 		longest := 0
 		for _, p := range g.Prods {
 			longest = max(longest, len(p.Right))
@@ -401,7 +364,7 @@ func TestP30_2Bound(t *testing.T) {
 }
 
 func TestLongText(t *testing.T) {
-	c := words().config
+	c := words()
 	text := strings.Repeat("ab cd ", 5000)
 	acts := []api.Act{{Kind: api.ActEdit, At: 15001, Ins: " x "}, {Kind: api.ActTick, Quota: 50}, {Kind: api.ActEdit, At: 3, Del: 2}, {Kind: api.ActPaint, To: 30000}, {Kind: api.ActTick, Quota: api.MaxQuota}, {Kind: api.ActPaint, To: 30000}}
 	if got := Of(c, text, acts); !got.OK {
@@ -410,7 +373,7 @@ func TestLongText(t *testing.T) {
 }
 
 func TestLongestText(t *testing.T) {
-	c := words().config
+	c := words()
 	l, _ := fresh.Build(c.Rules, c.Grammar)
 	text := strings.Repeat("a", l.Most()-1)
 	acts := []api.Act{{Kind: api.ActEdit, Ins: "b"}, {Kind: api.ActEdit, Ins: "b"}, {Kind: api.ActTick, Quota: api.MaxQuota}}

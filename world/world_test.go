@@ -11,15 +11,13 @@ import (
 	"viewport/engine"
 	"viewport/paint"
 	"viewport/parts"
+	"viewport/sample"
 )
 
 func config() api.Config {
-	return api.Config{
-		Rules:   []api.Rule{{Name: "word", Regex: "[a-z]+"}, {Name: "gap", Regex: "[ ]+", Trivia: true}},
-		Grammar: api.Grammar{Terms: 1, Nons: 1, K: 1, Prods: []api.Prod{{Right: []int{0, 1}}, {}}},
-		Styles:  []api.Style{{Kind: 0, Style: 1}, {Kind: 0, Path: []int{1, 1}, Style: 2, Prio: 1}},
-		Up:      1, Wait: 5, Jobs: 4,
-	}
+	c := sample.Words().Config(1, 5, 4)
+	c.Styles = append(c.Styles, api.Style{Kind: 0, Path: []int{1, 1}, Style: 2, Prio: 1})
+	return c
 }
 
 func edit(at, del int, ins string) api.Act {
