@@ -208,7 +208,7 @@ func TestP27_1(t *testing.T) {
 			t.Errorf("%d: Check: %d, not %d", i, got, x.want)
 		}
 		s, e := Open(c, strings.Repeat("a", 70000))
-		if want := max(x.want, 0); x.want != api.OK && (s != nil || e != want) {
+		if x.want != api.OK && (s != nil || e != x.want) {
 			t.Errorf("%d: Open: %d", i, e)
 		}
 		s, e = Open(c, "a b")
