@@ -1,6 +1,7 @@
 package least
 
 import (
+	"math"
 	"math/rand"
 	"slices"
 	"strings"
@@ -220,8 +221,8 @@ func TestP5_2(t *testing.T) {
 		if Equal(a, b) != (at < 0) {
 			t.Fatalf("Equal: %v", at >= 0)
 		}
-		for rule := 0; rule <= 4; rule++ {
-			at := slices.IndexFunc(l, func(s string) bool { return dfa.Run(a, s) == rule })
+		for rule := -2; rule <= 4; rule++ {
+			at := slices.IndexFunc(l, func(s string) bool { return rule >= 0 && dfa.Run(a, s) == rule })
 			want := ""
 			if at >= 0 {
 				want = l[at]
@@ -235,19 +236,25 @@ func TestP5_2(t *testing.T) {
 
 func TestP5_2Table(t *testing.T) {
 	d := with(with(table(0, -1), 0, 'a', 1), 1, 'b', 0)
-	if s, is := Short(d, -1); s != "\x00" || !is {
-		t.Errorf("Run of a string that leads nowhere is -1: %q, %v", s, is)
-	}
-	if s, is := Short(table(-1), -1); s != "" || !is {
-		t.Errorf("%q, %v", s, is)
-	}
 	all := table(0)
 	for b := range 256 {
 		all = with(all, 0, byte(b), 0)
 	}
-	for _, rule := range []int{-1, -2, 1, 16, 1 << 40} {
-		if s, is := Short(all, rule); s != "" || is {
-			t.Errorf("Short of rule %d: %q, %v", rule, s, is)
+	// In all of these but the last one some string has a Run of -1, which is not a rule.
+	for i, x := range []api.Dfa{d, table(-1), table(0), build(t, "[ab]*"), all} {
+		for _, rule := range []int{-1, -2, math.MinInt, 1, 16, 1 << 40, math.MaxInt} {
+			if s, is := Short(x, rule); s != "" || is {
+				t.Errorf("%d: Short of rule %d: %q, %v", i, rule, s, is)
+			}
+		}
+	}
+	for _, x := range []struct {
+		d    api.Dfa
+		rule int
+		want string
+	}{{d, 0, ""}, {all, 0, ""}, {table(15), 15, ""}, {with(table(-1, 0), 0, 'b', 1), 0, "b"}} {
+		if s, is := Short(x.d, x.rule); s != x.want || !is {
+			t.Errorf("Short of rule %d: %q, %v, not %q", x.rule, s, is, x.want)
 		}
 	}
 	if s, is := Witness(d, all); s != "\x00" || !is {
@@ -268,8 +275,10 @@ func TestP5_2Table(t *testing.T) {
 			t.Error(s, is)
 		}
 	}
-	if s, is := Short(bad, 0); s != "" || is {
-		t.Error(s, is)
+	for _, rule := range []int{-1, 0} {
+		if s, is := Short(bad, rule); s != "" || is {
+			t.Error(s, is)
+		}
 	}
 	if s, is := Short(build(t, "[ab]*c", "b[ab]*d"), 1); s != "bd" || !is {
 		t.Errorf("%q, %v", s, is)

@@ -26,7 +26,8 @@ func Witness(a, b api.Dfa) (string, bool) {
 
 // Short returns the first string whose Run is rule, and true, if there is one.
 func Short(d api.Dfa, rule int) (string, bool) {
-	if dfa.Check(d) != api.OK {
+	// Rules count from 0 on: a Run of -1 says that there is no rule, and is not one to be found.
+	if dfa.Check(d) != api.OK || rule < 0 {
 		return "", false
 	}
 	return search(d, d, func(s *step) bool { return ruleOf(d, s.a) == rule })
